@@ -1,0 +1,177 @@
+"""The files of the package: the interface as listed, and the rules of the language that can be counted.
+
+This is no whole check of the language; it finds what slips in most easily.
+"""
+
+import ast
+import importlib
+import inspect
+import re
+import unittest
+from pathlib import Path
+
+PACKAGE = Path(__file__).resolve().parent.parent / "toldbyrest"
+FILES = sorted(PACKAGE.rglob("*.py"))
+
+INTERFACE = {
+    "schemas": {"is_name": ["thing"], "Schema": ["tables"]},
+    "rows": {
+        "are_rows": ["schema", "thing"], "rows_at": ["schema", "rows", "table", "column", "value"],
+        "beside": ["schema", "rows", "others"], "turned": ["schema", "rows", "table", "index", "flag"],
+    },
+    "conditions": {
+        "is_condition": ["schema", "table", "thing"], "meets": ["schema", "rows", "table", "index", "condition"],
+        "depth": ["condition"], "has_parts": ["table", "condition"], "flags_in": ["table", "condition"],
+    },
+}
+METHODS = {
+    ("schemas", "Schema"): {"columns": ["table"], "flags": ["table"], "kind_of": ["table", "column"], "places": ["kind"]},
+}
+PROPERTIES = {("schemas", "Schema"): ["tables", "flag_places"]}
+
+BUILTINS = set(
+    "len range enumerate zip min max sum abs sorted reversed int str bool list tuple dict set isinstance ord repr any "
+    "all divmod pow iter next ValueError NotImplemented property".split()
+)
+BUILTIN_METHODS = set(
+    "append clear copy count endswith extend find get index insert isalnum isalpha isdigit islower isspace isupper "
+    "items join keys ljust lower lstrip partition pop remove replace reverse rfind rjust rpartition rsplit rstrip "
+    "setdefault sort split splitlines startswith strip update upper values zfill bit_length add discard".split()
+)
+BARRED_WORDS = re.compile(
+    r"\b(type|typing|enum|Enum|Flag|Generic|Protocol|ABC|namedtuple|NamedTuple|TypedDict)\b|dataclass|overload"
+)
+BARRED_NAMES = set("register mro elements open input law version_info with_traceback add_note".split())
+SPECIAL = {"__init__", "__eq__", "__len__"}
+
+
+def nodes_of(path):
+    """Return all nodes of the syntax tree of a file."""
+    return list(ast.walk(ast.parse(path.read_text(encoding="utf-8"))))
+
+
+def without_docstrings(tree):
+    """Return the strings of a tree other than docstrings."""
+    docs = set()
+    for node in ast.walk(tree):
+        if isinstance(node, (ast.Module, ast.ClassDef, ast.FunctionDef)) and ast.get_docstring(node) is not None:
+            docs.add(id(node.body[0].value))
+    found = [node for node in ast.walk(tree) if isinstance(node, ast.Constant) and isinstance(node.value, str)]
+    return [node.value for node in found if id(node) not in docs]
+
+
+class InterfaceTest(unittest.TestCase):
+    def parameters(self, thing):
+        return [name for name in inspect.signature(thing).parameters if name != "self"]
+
+    def test_functions_and_classes_stand_in_their_files(self):
+        for module, parts in INTERFACE.items():
+            for name, parameters in parts.items():
+                with self.subTest(f"{module}.{name}"):
+                    thing = getattr(importlib.import_module(f"toldbyrest.{module}"), name)
+                    self.assertEqual(thing.__module__, f"toldbyrest.{module}")
+                    self.assertEqual(self.parameters(thing), parameters)
+
+    def test_methods_and_properties_stand_in_their_classes(self):
+        for (module, name), methods in METHODS.items():
+            held = vars(getattr(importlib.import_module(f"toldbyrest.{module}"), name))
+            for method, parameters in methods.items():
+                self.assertEqual(self.parameters(held[method]), parameters)
+            for name_of_property in PROPERTIES[module, name]:
+                self.assertIsInstance(held[name_of_property], property)
+
+    def test_a_schema_defines_its_equality(self):
+        self.assertIn("__eq__", vars(importlib.import_module("toldbyrest.schemas").Schema))
+
+
+class LanguageTest(unittest.TestCase):
+    def test_there_are_files(self):
+        self.assertIn(PACKAGE / "__init__.py", FILES)
+        others = [path for path in PACKAGE.rglob("*") if path.is_file() and path.suffix not in (".py", ".pyc")]
+        self.assertEqual(others, [])
+
+    def test_sizes_and_characters(self):
+        for path in FILES:
+            with self.subTest(path.name):
+                text = path.read_text(encoding="utf-8")
+                lines = text.split("\n")
+                self.assertLess(len(lines), 400)
+                self.assertLessEqual(max(len(line) for line in lines), 120)
+                self.assertTrue(all(char == "\n" or " " <= char <= "~" for char in text))
+                self.assertRegex(path.name, r"^[a-z0-9_]+\.py$")
+                for node in nodes_of(path):
+                    if isinstance(node, ast.FunctionDef):
+                        self.assertLessEqual(node.end_lineno - node.lineno + 1, 40, node.name)
+
+    def test_imports_name_the_file_that_defines(self):
+        for path in FILES:
+            for node in nodes_of(path):
+                if isinstance(node, (ast.Import, ast.ImportFrom)):
+                    with self.subTest(f"{path.name}:{node.lineno}"):
+                        self.assertIsInstance(node, ast.ImportFrom)
+                        self.assertEqual(node.level, 0)
+                        self.assertTrue(node.module.startswith("toldbyrest."))
+                        for part in node.names:
+                            self.assertIsNone(part.asname)
+                            thing = getattr(importlib.import_module(node.module), part.name)
+                            self.assertEqual(getattr(thing, "__module__", node.module), node.module)
+
+    def test_nothing_is_imported_in_vain(self):
+        for path in FILES:
+            nodes = nodes_of(path)
+            used = {node.id for node in nodes if isinstance(node, ast.Name)}
+            for node in nodes:
+                if isinstance(node, ast.ImportFrom):
+                    for part in node.names:
+                        self.assertIn(part.name, used, path.name)
+
+    def test_words_and_strings(self):
+        for path in FILES:
+            with self.subTest(path.name):
+                nodes = nodes_of(path)
+                tree = ast.parse(path.read_text(encoding="utf-8"))
+                words = [node.id for node in nodes if isinstance(node, ast.Name)]
+                words += [node.attr for node in nodes if isinstance(node, ast.Attribute)]
+                words += [node.arg for node in nodes if isinstance(node, ast.arg)]
+                words += [node.name for node in nodes if isinstance(node, (ast.FunctionDef, ast.ClassDef))]
+                for word in words:
+                    self.assertNotIn(word, BARRED_NAMES)
+                    self.assertTrue(not word.startswith("__") or word in SPECIAL, word)
+                    self.assertNotRegex(word, BARRED_WORDS)
+                for text in without_docstrings(tree):
+                    self.assertNotRegex(text, BARRED_WORDS)
+                    self.assertNotIn("%", text)
+
+    def test_builtins_and_methods(self):
+        own = {node.name for path in FILES for node in nodes_of(path) if isinstance(node, (ast.FunctionDef, ast.ClassDef))}
+        # The examples leave the last answer behind in _, which is no builtin.
+        builtins = set(dir(importlib.import_module("builtins"))) - {"_", "super"}
+        for path in FILES:
+            for node in nodes_of(path):
+                with self.subTest(f"{path.name}:{getattr(node, 'lineno', 0)}"):
+                    if isinstance(node, ast.Name) and node.id in builtins:
+                        self.assertIn(node.id, BUILTINS)
+                        self.assertIsInstance(node.ctx, ast.Load)
+                    if isinstance(node, ast.arg):
+                        self.assertNotIn(node.arg, builtins)
+                    if isinstance(node, ast.Call) and isinstance(node.func, ast.Attribute):
+                        self.assertIn(node.func.attr, own | BUILTIN_METHODS)
+
+    def test_statements_and_expressions(self):
+        # any, all and the like take lists here, because a class has an __eq__: no generator expressions.
+        barred = (ast.GeneratorExp, ast.AsyncFunctionDef, ast.AsyncFor, ast.AsyncWith, ast.Await, ast.Div, ast.MatMult)
+        for path in FILES:
+            for node in nodes_of(path):
+                with self.subTest(f"{path.name}:{getattr(node, 'lineno', 0)}"):
+                    self.assertNotIsInstance(node, barred)
+                    if isinstance(node, ast.Constant):
+                        self.assertNotIsInstance(node.value, (float, complex))
+                    if isinstance(node, (ast.FunctionDef, ast.ClassDef)):
+                        decorators = [getattr(part, "id", None) for part in node.decorator_list]
+                        self.assertIn(decorators, ([], ["property"]))
+                    if isinstance(node, ast.Compare) and isinstance(node.ops[0], (ast.Is, ast.IsNot)):
+                        self.assertIn(getattr(node.comparators[0], "value", ""), (None, True, False))
+
+
+if __name__ == "__main__":
+    unittest.main()

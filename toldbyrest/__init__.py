@@ -1,0 +1,1 @@
+"""Toldbyrest: flags that the other flags tell."""
