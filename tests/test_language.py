@@ -23,6 +23,22 @@ INTERFACE = {
         "is_condition": ["schema", "table", "thing"], "meets": ["schema", "rows", "table", "index", "condition"],
         "depth": ["condition"], "has_parts": ["table", "condition"], "flags_in": ["table", "condition"],
     },
+    "texts": {
+        "format_condition": ["condition"], "format_book": ["book"], "format_schema": ["schema"],
+        "parse_condition": ["schema", "table", "text"], "parse_book": ["schema", "text"], "parse_schema": ["text"],
+    },
+    "books": {
+        "is_rule": ["schema", "thing"], "is_book": ["schema", "thing"],
+        "broken": ["schema", "book", "rows"], "keeps": ["schema", "book", "rows"],
+    },
+    "lacking": {
+        "is_lacking": ["schema", "thing"], "bare": ["schema", "rows", "lacking"],
+        "are_bare": ["schema", "lacking", "thing"], "is_filling": ["schema", "book", "lacking", "rows", "thing"],
+    },
+    "fillings": {
+        "fillings": ["schema", "book", "lacking", "rows"], "how_many": ["schema", "book", "lacking", "rows"],
+        "sure": ["schema", "book", "lacking", "rows"],
+    },
 }
 METHODS = {
     ("schemas", "Schema"): {"columns": ["table"], "flags": ["table"], "kind_of": ["table", "column"], "places": ["kind"]},

@@ -10,15 +10,20 @@ FORMS = {"yes": (1, 0), "flag": (2, 0), "has": (4, 1), "not": (1, 1), "and": (1,
 
 def is_condition(schema, table, thing):
     """Return whether a thing is a condition of a table."""
-    flags = schema.flags(table)
-    if not _has_form(thing):
-        return False
-    if thing[0] == "flag" and thing[1] not in flags:
-        return False
-    if thing[0] == "has" and not _is_look(schema, table, thing):
+    if not begins_well(schema, table, thing):
         return False
     below = table_within(table, thing)
     return all([is_condition(schema, below, part) for part in parts_within(thing)])
+
+
+def begins_well(schema, table, thing):
+    """Return whether a thing is a condition of a table, whatever stands for the conditions in it."""
+    flags = schema.flags(table)
+    if not _has_form(thing):
+        return False
+    if thing[0] == "flag":
+        return thing[1] in flags
+    return thing[0] != "has" or _is_look(schema, table, thing)
 
 
 def _has_form(thing):
@@ -34,6 +39,11 @@ def _is_look(schema, table, condition):
         return schema.kind_of(table, column) == schema.kind_of(other, target)
     except (UnknownTable, UnknownColumn):
         return False
+
+
+def words_of(condition):
+    """Return the tuple of the parts of a condition that stand ahead of the conditions in it."""
+    return condition[:FORMS[condition[0]][0]]
 
 
 def parts_within(condition):
@@ -57,7 +67,7 @@ def meets(schema, rows, table, index, condition):
     check_rows(schema, rows)
     check_row(schema, rows, table, index)
     check_condition(schema, table, condition)
-    return Judge(schema, rows).answers(table, condition)[index]
+    return Judge(schema, rows, 1).answers(table, condition)[index] == 1
 
 
 def depth(condition):
@@ -89,7 +99,11 @@ def _all_flags_in(table, condition):
 
 
 class Judge:
-    """Tells which rows meet conditions, for all rows of a table at once.
+    """Tells in which cases rows meet conditions, for all rows of a table at once.
+
+    The cases differ in flags alone. What holds in some of them is an integer that has a bit
+    for each of them; a flag of a row is such an integer, or True in all cases, or False in
+    all. So many fillings are judged in the time that one takes.
 
     Asked row by row, a look within a look would be asked again for each row that looks. And
     a large condition says the same many times: so each different tuple of answers has
@@ -97,22 +111,30 @@ class Judge:
     condition itself may lie too deep to be a key.)
     """
 
-    def __init__(self, schema, rows):
+    def __init__(self, schema, rows, many_cases):
         self._schema = schema
         self._rows = rows
+        self._all_cases = (1 << many_cases) - 1
         self._answers = []
         self._numbers = {}
         self._worked_out = {}
 
     def answers(self, table, condition):
-        """Return a tuple that tells for each row of a table whether it meets a condition."""
+        """Return a tuple that tells for each row of a table in which cases it meets a condition."""
         return self._answers[self._number(table, condition)]
+
+    def cases_kept(self, book):
+        """Return in which cases the rows break no rule of a book."""
+        found = self._all_cases
+        for table, condition in book:
+            for cases in self.answers(table, condition):
+                found = found & cases
+        return found
 
     def _number(self, table, condition):
         below = table_within(table, condition)
-        many_words = FORMS[condition[0]][0]
         numbers = [self._number(below, part) for part in parts_within(condition)]
-        key = (table,) + condition[:many_words] + tuple(numbers)
+        key = (table,) + words_of(condition) + tuple(numbers)
         if key not in self._worked_out:
             found = self._work_out(table, condition, [self._answers[number] for number in numbers])
             self._worked_out[key] = self._numbered(found)
@@ -128,20 +150,27 @@ class Judge:
         word = condition[0]
         if word == "flag":
             at = self._schema.flag_at(table, condition[1])
-            return tuple([flags[at] for _, flags in self._rows[table]])
+            return tuple([self._cases_of(flags[at]) for _, flags in self._rows[table]])
         if word == "has":
             return self._look(table, condition, below[0])
         if word == "not":
-            return tuple([not answer for answer in below[0]])
+            return tuple([self._all_cases - cases for cases in below[0]])
         if word == "and":
-            return tuple([first and second for first, second in zip(below[0], below[1])])
+            return tuple([first & second for first, second in zip(below[0], below[1])])
         if word == "or":
-            return tuple([first or second for first, second in zip(below[0], below[1])])
-        return (True,) * len(self._rows[table])
+            return tuple([first | second for first, second in zip(below[0], below[1])])
+        return (self._all_cases,) * len(self._rows[table])
+
+    def _cases_of(self, flag):
+        if isinstance(flag, bool):
+            return self._all_cases if flag else 0
+        return flag
 
     def _look(self, table, condition, answers):
         _, column, other, target, _ = condition
         to = self._schema.column_at(other, target)
         at = self._schema.column_at(table, column)
-        seen = {values[to]: True for (values, _), answer in zip(self._rows[other], answers) if answer}
-        return tuple([values[at] in seen for values, _ in self._rows[table]])
+        seen = {}
+        for (values, _), cases in zip(self._rows[other], answers):
+            seen[values[to]] = seen.get(values[to], 0) | cases
+        return tuple([seen.get(values[at], 0) for values, _ in self._rows[table]])

@@ -6,28 +6,40 @@ from toldbyrest.integers import is_index, is_integer, is_value
 
 def are_rows(schema, thing):
     """Return whether a thing is rows of a schema."""
+    return are_rows_with(schema, thing, lambda place, flag: isinstance(flag, bool))
+
+
+def are_rows_with(schema, thing, fits):
+    """Return whether a thing is rows of a schema but for their flags, which fit their flag places.
+
+    `fits` is a function of a flag place and of what stands there.
+    """
     if not isinstance(thing, dict) or len(thing) != len(schema.tables):
         return False
-    return all([table in thing and _are_rows_of(schema, table, thing[table]) for table in schema.tables])
+    return all([table in thing and _are_rows_of(schema, table, thing[table], fits) for table in schema.tables])
 
 
-def _are_rows_of(schema, table, thing):
+def _are_rows_of(schema, table, thing, fits):
     if not isinstance(thing, list):
         return False
     many_values = len(schema.columns(table))
-    many_flags = len(schema.flags(table))
-    return all([_is_row(row, many_values, many_flags) for row in thing])
+    places = [(table, flag) for flag in schema.flags(table)]
+    return all([_is_row(row, many_values, places, fits) for row in thing])
 
 
-def _is_row(thing, many_values, many_flags):
+def _is_row(thing, many_values, places, fits):
     if not isinstance(thing, tuple) or len(thing) != 2:
         return False
     values, flags = thing
     if not isinstance(values, tuple) or len(values) != many_values:
         return False
-    if not isinstance(flags, tuple) or len(flags) != many_flags:
+    if not isinstance(flags, tuple) or len(flags) != len(places):
         return False
-    return all([is_value(value) for value in values]) and all([isinstance(flag, bool) for flag in flags])
+    return all([is_value(value) for value in values]) and _do_fit(places, flags, fits)
+
+
+def _do_fit(places, flags, fits):
+    return all([fits(place, flag) for place, flag in zip(places, flags)])
 
 
 def check_rows(schema, rows):
@@ -77,6 +89,12 @@ def turned(schema, rows, table, index, flag):
     check_row(schema, rows, table, index)
     at = schema.flag_at(table, flag)
     result = {name: list(rows[name]) for name in schema.tables}
-    values, flags = result[table][index]
-    result[table][index] = (values, flags[:at] + (not flags[at],) + flags[at + 1:])
+    row = result[table][index]
+    result[table][index] = with_flag(row, at, not row[1][at])
     return result
+
+
+def with_flag(row, at, flag):
+    """Return a row with another flag where one of its flags stands."""
+    values, flags = row
+    return (values, flags[:at] + (flag,) + flags[at + 1:])
