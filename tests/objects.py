@@ -1,9 +1,12 @@
-"""What several tests need: objects of all kinds, and conditions and rows at random.
+"""What several tests need: objects of all kinds, schemas, books and rows at random, and points read word by word.
 
 The objects are for the calls that raise their errors for any object.
 """
 
 from copy import deepcopy
+from itertools import product
+
+from toldbyrest.schemas import Schema
 
 
 def nested(depth, wrap, kernel):
@@ -92,3 +95,184 @@ def some_rows(random, schema):
 def doubled(levels, word, kernel):
     """Return a condition of so many levels in which each level has two of the next one."""
     return nested(levels - 1, lambda part: (word, part, part), kernel)
+
+
+def some_schema(random):
+    """Return a schema of one to three tables with a few columns of two kinds and a few flags."""
+    tables = {}
+    for table in random.sample(["land", "shop", "town"], random.choice((1, 1, 2, 2, 2, 3))):
+        columns = tuple((name, random.choice(("k", "k", "m"))) for name in ("at", "by", "id")[:random.choice((1, 1, 2, 2, 3))])
+        tables[table] = (columns, ("busy", "old")[:random.choice((0, 1, 1, 2))])
+    return Schema(tables)
+
+
+def some_book(random, schema, most_rules=3, most_looks=3, levels=5):
+    """Return a book with not too many looks, rather with looks than without."""
+    least_looks = random.choice((0, 1, 1, 1, 2, 2))
+    for _ in range(200):
+        tables = [random.choice(schema.tables) for _ in range(random.randint(1, most_rules))]
+        book = [(table, some_condition(random, schema, table, levels)) for table in tables]
+        if least_looks <= len(Plain(schema, book).looks) <= most_looks:
+            return book
+    return []
+
+
+class Plain:
+    """Points [9] to [12], read word by word, for small schemas and books."""
+
+    def __init__(self, schema, book):
+        self.schema = schema
+        self.looks = []
+        for table, condition in book:
+            self.find_looks(table, condition)
+        self.row_kinds = {table: self.row_kinds_of(book, table) for table in schema.tables}
+
+    def find_looks(self, table, condition):
+        if condition[0] == "has":
+            if (table,) + condition[1:] not in self.looks:
+                self.looks.append((table,) + condition[1:])
+            self.find_looks(condition[2], condition[4])
+        for part in {"not": condition[1:], "and": condition[1:], "or": condition[1:]}.get(condition[0], ()):
+            self.find_looks(table, part)
+
+    def answer(self, row_kind, look):
+        own = [own for own in self.looks if own[0] == row_kind[0]]
+        return row_kind[2][own.index(look)]
+
+    def meets(self, row_kind, condition):
+        """Return whether a row kind meets a condition if its answers tell which "has" are met."""
+        table, flags, _ = row_kind
+        word = condition[0]
+        if word == "flag":
+            return flags[self.schema.flags(table).index(condition[1])]
+        if word == "has":
+            return self.answer(row_kind, (table,) + condition[1:])
+        if word == "not":
+            return not self.meets(row_kind, condition[1])
+        answers = [self.meets(row_kind, part) for part in condition[1:]]
+        return any(answers) if word == "or" else all(answers)
+
+    def row_kinds_of(self, book, table):
+        many = len([look for look in self.looks if look[0] == table])
+        views = [
+            (table, flags, answers)
+            for flags in product((False, True), repeat=len(self.schema.flags(table)))
+            for answers in product((False, True), repeat=many)
+        ]
+        return [view for view in views if all(self.meets(view, rule[1]) for rule in book if rule[0] == table)]
+
+    def gives(self, row_kind, look):
+        return look[2] == row_kind[0] and self.meets(row_kind, look[4])
+
+    def looks_through(self, kind):
+        return [look for look in self.looks if self.schema.kind_of(look[0], look[1]) == kind]
+
+    def meetings(self, kind):
+        return [(kind, answers) for answers in product((False, True), repeat=len(self.looks_through(kind)))]
+
+    def fits(self, row_kind, column, meeting):
+        table = row_kind[0]
+        kind, answers = meeting
+        if self.schema.kind_of(table, column) != kind:
+            return False
+        for look, answer in zip(self.looks_through(kind), answers):
+            if look[:2] == (table, column) and self.answer(row_kind, look) != answer:
+                return False
+            if look[2:4] == (table, column) and not answer and self.gives(row_kind, look):
+                return False
+        return True
+
+    def asked(self, meeting):
+        """Return the looks that a meeting answers with True."""
+        return [look for look, answer in zip(self.looks_through(meeting[0]), meeting[1]) if answer]
+
+    def is_kind_struck(self, there, row_kind):
+        """Return whether a row kind is struck in a round if just these row kinds are not struck in earlier ones."""
+        return not all(
+            any(
+                self.fits(row_kind, column, meeting) and all(
+                    any(
+                        other[0] == look[2] and self.fits(other, look[3], meeting) and self.gives(other, look)
+                        for other in there
+                    )
+                    for look in self.asked(meeting)
+                )
+                for meeting in self.meetings(kind)
+            )
+            for column, kind in self.schema.columns(row_kind[0])
+        )
+
+    def rounds_of_kinds(self):
+        there = [row_kind for table in self.schema.tables for row_kind in self.row_kinds[table]]
+        found = {}
+        for number in range(1, 10 ** 6):
+            struck = [row_kind for row_kind in there if self.is_kind_struck(there, row_kind)]
+            if not struck:
+                return found
+            found.update({row_kind: number for row_kind in struck})
+            there = [row_kind for row_kind in there if row_kind not in struck]
+
+    def left(self, table):
+        struck = self.rounds_of_kinds()
+        return [row_kind for row_kind in self.row_kinds[table] if row_kind not in struck]
+
+    def first_candidates(self, rows):
+        """Return the dict from tuples (table, index) to the candidates of a row."""
+        left = {table: self.left(table) for table in self.schema.tables}
+        return {
+            (table, index): [
+                row_kind for row_kind in left[table]
+                if all(kept is None or kept == flag for kept, flag in zip(flags, row_kind[1]))
+            ]
+            for table in self.schema.tables for index, (_, flags) in enumerate(rows[table])
+        }
+
+    def places_with(self, rows, kind, value):
+        """Return all tuples (table, column, index) of a row that has the value in a place of the kind."""
+        return [
+            (table, column, index)
+            for table in self.schema.tables
+            for at, (column, own) in enumerate(self.schema.columns(table)) if own == kind
+            for index, (values, _) in enumerate(rows[table]) if values[at] == value
+        ]
+
+    def is_possible(self, rows, there, meeting, value):
+        """Return whether a meeting has all that [12] asks for at a value, by the candidates that are there."""
+        standing = self.places_with(rows, meeting[0], value)
+        return all(
+            any(self.fits(row_kind, column, meeting) for row_kind in there[table, index])
+            for table, column, index in standing
+        ) and all(
+            any(
+                self.fits(row_kind, column, meeting) and self.gives(row_kind, look)
+                for table, column, index in standing if (table, column) == look[2:4]
+                for row_kind in there[table, index]
+            )
+            for look in self.asked(meeting)
+        )
+
+    def is_candidate_struck(self, rows, there, table, index, row_kind):
+        """Return whether a candidate of a row is struck in a round if just these are not struck in earlier ones."""
+        return not all(
+            any(
+                self.fits(row_kind, column, meeting) and self.is_possible(rows, there, meeting, value)
+                for meeting in self.meetings(kind)
+            )
+            for (column, kind), value in zip(self.schema.columns(table), rows[table][index][0])
+        )
+
+    def stages_of_candidates(self, rows):
+        """Return the list of the candidates behind 0, 1, .. rounds; the last ones are never struck."""
+        found = [self.first_candidates(rows)]
+        while True:
+            there = found[-1]
+            after = {
+                (table, index): [
+                    row_kind for row_kind in there[table, index]
+                    if not self.is_candidate_struck(rows, there, table, index, row_kind)
+                ]
+                for table, index in there
+            }
+            if after == there:
+                return found
+            found.append(after)

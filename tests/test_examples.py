@@ -70,6 +70,65 @@ raises ParseError(1)
 >>> [how_many(schema, book, [('town', 'old')], rows), sure(schema, book, [('town', 'old')], rows)]
 [2, {'town': [((1, 2), (None,)), ((2, 1), (None,)), ((3, 4), (False,))]}]
 """,
+    "22": r"""
+>>> from toldbyrest.looks import looks, looks_into, looks_through, own_looks
+>>> from toldbyrest.schemas import Schema
+>>> schema = Schema({'shop': ((('at', 'town'),), ('open',)), 'town': ((('id', 'town'),), ('old',))})
+>>> inner = ('has', 'id', 'shop', 'at', ('flag', 'open'))
+>>> book = [('town', ('not', ('flag', 'old'))), ('shop', ('has', 'at', 'town', 'id', inner)), ('town', inner)]
+>>> [look[:4] for look in looks(schema, book)]
+[('shop', 'at', 'town', 'id'), ('town', 'id', 'shop', 'at')]
+>>> [own_looks(schema, book, 'town'), looks_into(schema, book, 'town', 'id'), looks_through(schema, book, 'town')]
+[[1], [0], [0, 1]]
+""",
+    "23": r"""
+>>> from toldbyrest.kinds import fits, gives, row_kinds, view_on
+>>> from toldbyrest.schemas import Schema
+>>> schema = Schema({'shop': ((('at', 'town'),), ('open',)), 'town': ((('id', 'town'),), ('busy',))})
+>>> seen = ('has', 'id', 'shop', 'at', ('flag', 'open'))
+>>> book = [('town', ('or', ('and', ('flag', 'busy'), seen), ('and', ('not', ('flag', 'busy')), ('not', seen))))]
+>>> [row_kinds(schema, book, 'town'), row_kinds(schema, book, 'shop')]
+[[('town', (False,), (False,)), ('town', (True,), (True,))], [('shop', (False,), ()), ('shop', (True,), ())]]
+>>> [gives(schema, book, ('shop', (worth,), ()), 0) for worth in (False, True)]
+[False, True]
+>>> [fits(schema, book, ('shop', (True,), ()), 'at', ('town', (answer,))) for answer in (False, True)]
+[False, True]
+>>> view_on(schema, book, {'shop': [((1,), (True,))], 'town': [((1,), (False,))]}, 'town', 0)
+('town', (False,), (True,))
+""",
+    "24": r"""
+>>> from toldbyrest.left import can_have_rows, kinds_left, rounds_of_kinds
+>>> from toldbyrest.schemas import Schema
+>>> schema = Schema({'town': ((('id', 'town'), ('of', 'town')), ('old',))})
+>>> above = ('has', 'of', 'town', 'id', ('not', ('flag', 'old')))
+>>> book = [('town', ('and', ('flag', 'old'), above))]
+>>> [rounds_of_kinds(schema, book), can_have_rows(schema, book, 'town'), kinds_left(schema, book[:0], 'town')]
+[{('town', (True,), (True,)): 1}, False, [('town', (False,), ()), ('town', (True,), ())]]
+""",
+    "25": r"""
+>>> from toldbyrest.candidates import candidates, last_round, worked_out
+>>> from toldbyrest.schemas import Schema
+>>> schema = Schema({'shop': ((('at', 'town'),), ('open',)), 'town': ((('id', 'town'),), ('busy',))})
+>>> seen = ('has', 'id', 'shop', 'at', ('flag', 'open'))
+>>> book = [('town', ('or', ('and', ('flag', 'busy'), seen), ('and', ('not', ('flag', 'busy')), ('not', seen))))]
+>>> rows = {'shop': [((1,), (True,))], 'town': [((1,), (None,)), ((2,), (None,))]}
+>>> [candidates(schema, book, [('town', 'busy')], rows, number)['town'][1] for number in range(2)]
+[[('town', (False,), (False,)), ('town', (True,), (True,))], [('town', (False,), (False,))]]
+>>> [worked_out(schema, book, [('town', 'busy')], rows, 1)['town'], last_round(schema, book, [('town', 'busy')], rows)]
+[[((1,), (True,)), ((2,), (False,))], 1]
+""",
+    "26": r"""
+>>> from toldbyrest.reasons import is_reason, reason
+>>> from toldbyrest.schemas import Schema
+>>> schema = Schema({'shop': ((('at', 'town'),), ('open',)), 'town': ((('id', 'town'),), ('busy',))})
+>>> seen = ('has', 'id', 'shop', 'at', ('flag', 'open'))
+>>> book = [('town', ('or', ('and', ('flag', 'busy'), seen), ('and', ('not', ('flag', 'busy')), ('not', seen))))]
+>>> rows, busy = {'shop': [], 'town': [((1,), (None,))]}, ('town', (True,), (True,))
+>>> [is_reason(schema, book, [('town', 'busy')], rows, {('town', 0, busy): number}) for number in (0, 1, 7)]
+[False, True, True]
+>>> reason(schema, book, [('town', 'busy')], rows, 'town', 0, ('town', (False,), (False,))) is None
+True
+""",
 }
 
 

@@ -39,6 +39,29 @@ INTERFACE = {
         "fillings": ["schema", "book", "lacking", "rows"], "how_many": ["schema", "book", "lacking", "rows"],
         "sure": ["schema", "book", "lacking", "rows"],
     },
+    "looks": {
+        "looks": ["schema", "book"], "own_looks": ["schema", "book", "table"],
+        "looks_into": ["schema", "book", "table", "column"], "looks_through": ["schema", "book", "kind"],
+    },
+    "kinds": {
+        "row_kinds": ["schema", "book", "table"], "is_row_kind": ["schema", "book", "thing"],
+        "is_meeting": ["schema", "book", "thing"], "gives": ["schema", "book", "row_kind", "index"],
+        "fits": ["schema", "book", "row_kind", "column", "meeting"],
+        "view_on": ["schema", "book", "rows", "table", "index"],
+    },
+    "left": {
+        "rounds_of_kinds": ["schema", "book"], "kinds_left": ["schema", "book", "table"],
+        "rows_with": ["schema", "book", "row_kind"], "can_have_rows": ["schema", "book", "table"],
+    },
+    "candidates": {
+        "candidates": ["schema", "book", "lacking", "rows", "number"],
+        "worked_out": ["schema", "book", "lacking", "rows", "number"],
+        "last_round": ["schema", "book", "lacking", "rows"],
+    },
+    "reasons": {
+        "is_reason": ["schema", "book", "lacking", "rows", "thing"],
+        "reason": ["schema", "book", "lacking", "rows", "table", "index", "row_kind"],
+    },
 }
 METHODS = {
     ("schemas", "Schema"): {"columns": ["table"], "flags": ["table"], "kind_of": ["table", "column"], "places": ["kind"]},
@@ -58,6 +81,11 @@ BARRED_WORDS = re.compile(
     r"\b(type|typing|enum|Enum|Flag|Generic|Protocol|ABC|namedtuple|NamedTuple|TypedDict)\b|dataclass|overload"
 )
 BARRED_NAMES = set("register mro elements open input law version_info with_traceback add_note".split())
+# Names that attributes must not have, as values of Python's own have methods of these names.
+BARRED_ATTRIBUTES = set(
+    "items keys values pop update append clear extend insert remove reverse setdefault sort args encode decode hex "
+    "fromhex format register mro".split()
+)
 SPECIAL = {"__init__", "__eq__", "__len__"}
 
 
@@ -157,6 +185,28 @@ class LanguageTest(unittest.TestCase):
                 for text in without_docstrings(tree):
                     self.assertNotRegex(text, BARRED_WORDS)
                     self.assertNotIn("%", text)
+
+    def test_names_of_imports_and_classes_mean_nothing_else(self):
+        for path in FILES:
+            nodes = nodes_of(path)
+            taken = {part.name for node in nodes if isinstance(node, ast.ImportFrom) for part in node.names}
+            taken |= {node.name for node in nodes if isinstance(node, ast.ClassDef)}
+            bound = {node.arg for node in nodes if isinstance(node, ast.arg)}
+            bound |= {node.id for node in nodes if isinstance(node, ast.Name) and isinstance(node.ctx, ast.Store)}
+            bound |= {node.name for node in nodes if isinstance(node, ast.FunctionDef)}
+            self.assertEqual(taken & bound, set(), path.name)
+
+    def test_attributes_and_methods_of_own_classes(self):
+        for path in FILES:
+            for node in nodes_of(path):
+                if isinstance(node, ast.ClassDef):
+                    methods = {part.name for part in node.body if isinstance(part, ast.FunctionDef)}
+                    attributes = {
+                        part.attr for part in ast.walk(node)
+                        if isinstance(part, ast.Attribute) and isinstance(part.ctx, ast.Store)
+                    }
+                    self.assertEqual(attributes & (methods | BARRED_ATTRIBUTES), set(), path.name)
+                    self.assertEqual(methods & BUILTIN_METHODS, set(), path.name)
 
     def test_builtins_and_methods(self):
         own = {node.name for path in FILES for node in nodes_of(path) if isinstance(node, (ast.FunctionDef, ast.ClassDef))}

@@ -67,6 +67,11 @@ class Schema:
         """The ascending list of the tuples (table, flag)."""
         return sorted([(table, flag) for table, (_, flags) in self._tables.items() for flag in flags])
 
+    @property
+    def kinds(self):
+        """The ascending list of the different kinds of the columns."""
+        return sorted(set([kind for columns, _ in self._tables.values() for _, kind in columns]))
+
     def columns(self, table):
         """Return the tuple of the columns of a table, each a tuple (name, kind)."""
         return self._table(table)[0]
