@@ -117,8 +117,44 @@ def some_book(random, schema, most_rules=3, most_looks=3, levels=5):
     return []
 
 
+def exactly(flag, condition):
+    """Return the condition that a row has a flag exactly if it meets another condition."""
+    return ("or", ("and", ("flag", flag), condition), ("and", ("not", ("flag", flag)), ("not", condition)))
+
+
+def some_telling_book(random, schema, most_looks=3):
+    """Return a book by which some flags are told by others, with not too many looks, and these flag places."""
+    for _ in range(200):
+        places = random.sample(schema.flag_places, random.randint(1, min(3, len(schema.flag_places))))
+        book = [(table, exactly(flag, some_condition(random, schema, table, 4))) for table, flag in places]
+        if random.random() < 0.4:
+            table = random.choice(schema.tables)
+            book.append((table, some_condition(random, schema, table, 3)))
+        if 0 < len(Plain(schema, book).looks) <= most_looks:
+            return book, places
+    return [], []
+
+
+def chain():
+    """Return a schema of four tables, rules by which each tells the next one, and the flag places that they tell."""
+    schema = Schema({
+        "a": ((("i", "k"),), ("f",)), "b": ((("i", "k"), ("j", "m")), ("f",)), "c": ((("j", "m"), ("l", "n")), ("f",)),
+        "d": ((("l", "n"),), ("f",)),
+    })
+    has = {
+        "b": ("has", "i", "a", "i", ("flag", "f")), "c": ("has", "j", "b", "j", ("flag", "f")),
+        "d": ("has", "l", "c", "l", ("flag", "f")),
+    }
+    return schema, [(table, exactly("f", has[table])) for table in has], [(table, "f") for table in has]
+
+
+def all_kinds(schema):
+    """Return the kinds of all columns."""
+    return sorted({kind for table in schema.tables for _, kind in schema.columns(table)})
+
+
 class Plain:
-    """Points [9] to [12], read word by word, for small schemas and books."""
+    """Points [9] to [13], read word by word, for small schemas and books."""
 
     def __init__(self, schema, book):
         self.schema = schema
@@ -276,3 +312,73 @@ class Plain:
             if after == there:
                 return found
             found.append(after)
+
+    def pairs(self, lacking, table):
+        left = self.left(table)
+        return [
+            (first, second) for first in left for second in left
+            if all(
+                one == other for flag, one, other in zip(self.schema.flags(table), first[1], second[1])
+                if (table, flag) not in lacking
+            )
+        ]
+
+    def have_all(self, there, one, other):
+        """Return whether two meetings have all that [13] asks for, by the pairs that are there."""
+        return all(
+            any(
+                pair[0][0] == look[2] and self.fits(pair[0], look[3], one) and self.fits(pair[1], look[3], other)
+                and self.gives(pair[side], look)
+                for pair in there
+            )
+            for side, meeting in enumerate((one, other)) for look in self.asked(meeting)
+        )
+
+    def meetings_with_all(self, there):
+        """Return the list of the tuples of two meetings of a kind that have all that [13] asks for."""
+        return [
+            (one, other) for kind in all_kinds(self.schema)
+            for one in self.meetings(kind) for other in self.meetings(kind) if self.have_all(there, one, other)
+        ]
+
+    def is_pair_struck(self, meetings, pair):
+        """Return whether a pair is struck in a round in which just these tuples of two meetings have all."""
+        return not all(
+            any(self.fits(pair[0], column, one) and self.fits(pair[1], column, other) for one, other in meetings)
+            for column, _ in self.schema.columns(pair[0][0])
+        )
+
+    def stages_of_pairs(self, lacking):
+        """Return the list of the pairs of all tables behind 0, 1, .. rounds; the last ones are never struck."""
+        found = [[pair for table in self.schema.tables for pair in self.pairs(lacking, table)]]
+        while True:
+            meetings = self.meetings_with_all(found[-1])
+            after = [pair for pair in found[-1] if not self.is_pair_struck(meetings, pair)]
+            if after == found[-1]:
+                return found
+            found.append(after)
+
+    def rounds_of_pairs(self, lacking):
+        stages = self.stages_of_pairs(lacking)
+        return {
+            pair: number for number in range(1, len(stages)) for pair in stages[number - 1] if pair not in stages[number]
+        }
+
+
+def plainly_near(schema, rows, table, index, steps):
+    """Return the tuples (table, index) of the rows that are at most so many steps from one, read from [36]."""
+    def values_of(name, at):
+        return {(kind, value) for (_, kind), value in zip(schema.columns(name), rows[name][at][0])}
+
+    found = {(table, index)}
+    for _ in range(steps):
+        seen = set().union(*(values_of(*row) for row in found))
+        found |= {(name, at) for name in schema.tables for at in range(len(rows[name])) if seen & values_of(name, at)}
+    return found
+
+
+def plainly_cut_out(schema, rows, table, index, steps):
+    """Return the rows that are at most so many steps from one, and its index among them, read from [36]."""
+    near = plainly_near(schema, rows, table, index, steps)
+    cut = {name: [row for at, row in enumerate(rows[name]) if (name, at) in near] for name in schema.tables}
+    return cut, len([at for at in range(index) if (table, at) in near])

@@ -129,6 +129,52 @@ raises ParseError(1)
 >>> reason(schema, book, [('town', 'busy')], rows, 'town', 0, ('town', (False,), (False,))) is None
 True
 """,
+    "27": r"""
+>>> from toldbyrest.pairs import pairs, pairs_left, rounds_of_pairs
+>>> from toldbyrest.schemas import Schema
+>>> schema = Schema({'shop': ((('at', 'town'),), ('open',)), 'town': ((('id', 'town'),), ('busy',))})
+>>> seen = ('has', 'id', 'shop', 'at', ('flag', 'open'))
+>>> book = [('town', ('or', ('and', ('flag', 'busy'), seen), ('and', ('not', ('flag', 'busy')), ('not', seen))))]
+>>> quiet, busy = ('town', (False,), (False,)), ('town', (True,), (True,))
+>>> rounds_of_pairs(schema, book, [('town', 'busy')]) == {(quiet, busy): 1, (busy, quiet): 1}
+True
+>>> [len(pairs(schema, book, [('town', 'busy')], 'town')), pairs_left(schema, book, [('town', 'busy')], 'town') == [(quiet, quiet), (busy, busy)]]
+[4, True]
+""",
+    "28": r"""
+>>> from toldbyrest.schemas import Schema
+>>> from toldbyrest.texts import parse_book
+>>> from toldbyrest.told import is_told, levels
+>>> schema = Schema({'land': ((('id', 'land'),), ('rich',)), 'shop': ((('at', 'town'),), ('open',)), 'town': ((('id', 'town'), ('in', 'land')), ('busy',))})
+>>> rules = ['town or and flag busy has id shop at flag open and not flag busy not has id shop at flag open']
+>>> rules = rules + ['land or and flag rich has id town in flag busy and not flag rich not has id town in flag busy']
+>>> book = parse_book(schema, '\n'.join(rules))
+>>> levels(schema, book, [('town', 'busy'), ('land', 'rich')])
+{('land', 'rich'): 2, ('town', 'busy'): 1}
+>>> [is_told(schema, book, [('shop', 'open')], 'shop', 'open'), levels(schema, book, [('land', 'rich')])]
+[False, {('land', 'rich'): 1}]
+""",
+    "29": r"""
+>>> from toldbyrest.papers import is_paper, paper
+>>> from toldbyrest.schemas import Schema
+>>> schema = Schema({'shop': ((('at', 'town'),), ('open',)), 'town': ((('id', 'town'),), ('busy',))})
+>>> seen = ('has', 'id', 'shop', 'at', ('flag', 'open'))
+>>> book = [('town', ('or', ('and', ('flag', 'busy'), seen), ('and', ('not', ('flag', 'busy')), ('not', seen))))]
+>>> quiet, busy = ('town', (False,), (False,)), ('town', (True,), (True,))
+>>> [is_paper(schema, book, [('town', 'busy')], {(quiet, other): 1}) for other in (quiet, busy)]
+[False, True]
+>>> paper(schema, book, [('town', 'busy')], (busy, busy)) is None
+True
+""",
+    "30": r"""
+>>> from toldbyrest.apart import data_apart, data_behind, data_near
+>>> from toldbyrest.schemas import Schema
+>>> schema = Schema({'town': ((('id', 'town'),), ('old', 'busy'))})
+>>> data_apart(schema, [('town', ('or', ('flag', 'old'), ('flag', 'busy')))], [('town', 'busy')], 'town', 'busy') is None
+False
+>>> [data_one(schema, [('town', ('and', ('flag', 'old'), ('flag', 'busy')))], [('town', 'busy')], 'town', 'busy', 0) is None for data_one in (data_behind, data_near)]
+[True, True]
+""",
 }
 
 

@@ -62,6 +62,20 @@ INTERFACE = {
         "is_reason": ["schema", "book", "lacking", "rows", "thing"],
         "reason": ["schema", "book", "lacking", "rows", "table", "index", "row_kind"],
     },
+    "pairs": {
+        "pairs": ["schema", "book", "lacking", "table"], "pairs_left": ["schema", "book", "lacking", "table"],
+        "rounds_of_pairs": ["schema", "book", "lacking"],
+    },
+    "told": {
+        "rounds_needed": ["schema", "book", "lacking", "table", "flag"],
+        "is_told": ["schema", "book", "lacking", "table", "flag"], "levels": ["schema", "book", "lacking"],
+    },
+    "papers": {"is_paper": ["schema", "book", "lacking", "thing"], "paper": ["schema", "book", "lacking", "pair"]},
+    "apart": {
+        "data_apart": ["schema", "book", "lacking", "table", "flag"],
+        "data_behind": ["schema", "book", "lacking", "table", "flag", "number"],
+        "data_near": ["schema", "book", "lacking", "table", "flag", "number"],
+    },
 }
 METHODS = {
     ("schemas", "Schema"): {"columns": ["table"], "flags": ["table"], "kind_of": ["table", "column"], "places": ["kind"]},

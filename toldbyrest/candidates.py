@@ -1,8 +1,7 @@
 """Candidates of bare rows behind a number of rounds, and the flags that they tell."""
 
 from toldbyrest.boards import Board
-from toldbyrest.errors import InvalidNumber
-from toldbyrest.integers import is_value
+from toldbyrest.integers import check_number
 from toldbyrest.kinds import Kinds
 from toldbyrest.lacking import check_bare
 from toldbyrest.left import left_of
@@ -35,12 +34,6 @@ def last_round(schema, book, lacking, rows):
     while board.strike_round():
         number += 1
     return number
-
-
-def check_number(number):
-    """Raise InvalidNumber for what is no integer from 0 on."""
-    if not is_value(number):
-        raise InvalidNumber("this is no integer from 0 on")
 
 
 def _there_behind(kinds, rows, number):

@@ -7,46 +7,67 @@ class Growth:
     """Rows with an item of a sieve each, and values with a meeting each.
 
     An item stands in a row at values whose meetings it fits. What a meeting asks for is
-    brought by further rows at the value, whose other values may in turn ask for rows. There is
-    one value for each meeting, however many rows stand at it, so the rows come to an end.
+    brought by further rows at the value, whose other values may in turn ask for rows. On a
+    level there is one value for each meeting, however many rows stand at it, so the rows come
+    to an end.
+
+    A level is a tuple (meetings, items): which numbers of meetings of each kind values may
+    have on it, and which items bring what they ask for. Rows that are brought to a value
+    have their other values on the next level, or on the last one for good. If the items of a
+    level are None, what its values ask for is left to others.
     """
 
-    def __init__(self, sieve, there):
+    def __init__(self, sieve, levels, least_value):
         self.rows = {table: [] for table in sieve.schema.tables}
+        self.edge = []
         self._sieve = sieve
-        self._there = there
-        self._possible = {kind: sieve.possible(there, kind) for kind in sieve.needs}
+        self._levels = levels
+        self._least_value = least_value
         self._values = {}
         self._waiting = []
 
     def plant(self, table, item):
-        """Add a row with an item, and all that it needs; return its index."""
+        """Add a row with an item on the first level, and all that it needs; return its index."""
         index = len(self.rows[table])
-        self._stand(table, item, None, None)
-        while self._waiting:
-            self._serve(self._waiting.pop())
+        self._stand(table, item, 0, None, None)
+        self._finish()
         return index
 
-    def _stand(self, table, item, given, value):
-        """Add a row with an item that has a given value in one column, if it is not None."""
+    def serve(self, kind, number, value):
+        """Bring what a meeting asks for to a value that others have grown."""
+        self._waiting.append((0, kind, number, value))
+        self._finish()
+
+    def least_free_value(self):
+        """Return the least value that is greater than all that have been grown."""
+        return self._least_value + len(self._values)
+
+    def _finish(self):
+        while self._waiting:
+            level, kind, number, value = self._waiting.pop()
+            there = self._levels[level][1]
+            if there is None:
+                self.edge.append((kind, number, value))
+            else:
+                self._bring(there, min(level + 1, len(self._levels) - 1), kind, number, value)
+
+    def _bring(self, there, level, kind, number, value):
+        for place, givers in self._sieve.needs[kind][number]:
+            item = some_number(self._sieve.helpers(there, place, number, givers))
+            self._stand(place[0], item, level, place[1], value)
+
+    def _stand(self, table, item, level, given, value):
+        """Add a row with an item that has a value in a given column, if that is not None, and values of a level."""
         values = []
         for column, kind in self._sieve.schema.columns(table):
-            values.append(value if column == given else self._value(table, column, kind, item))
+            values.append(value if column == given else self._value((table, column), kind, item, level))
         self.rows[table].append((tuple(values), item))
 
-    def _value(self, table, column, kind, item):
-        spot = (kind, self._meeting(table, column, kind, item))
+    def _value(self, place, kind, item, level):
+        fitting = self._sieve.fitting[place]
+        number = [number for number in self._levels[level][0][kind] if fitting[number] >> item & 1][0]
+        spot = (level, kind, number)
         if spot not in self._values:
-            self._values[spot] = len(self._values)
-            self._waiting.append(spot)
+            self._values[spot] = self.least_free_value()
+            self._waiting.append(spot + (self._values[spot],))
         return self._values[spot]
-
-    def _meeting(self, table, column, kind, item):
-        fitting = self._sieve.fitting[(table, column)]
-        return [number for number in self._possible[kind] if fitting[number] >> item & 1][0]
-
-    def _serve(self, spot):
-        kind, number = spot
-        for place, givers in self._sieve.needs[kind][number]:
-            item = some_number(self._sieve.helpers(self._there, place, number, givers))
-            self._stand(place[0], item, place[1], self._values[spot])

@@ -1,5 +1,7 @@
 """What integers, values and indexes are: True and False are none of them."""
 
+from toldbyrest.errors import InvalidNumber
+
 
 def is_integer(thing):
     """Return whether a thing is an integer."""
@@ -14,3 +16,9 @@ def is_value(thing):
 def is_index(thing, many):
     """Return whether a thing is an index of one of so many things."""
     return is_value(thing) and thing < many
+
+
+def check_number(number):
+    """Raise InvalidNumber for what is no integer from 0 on."""
+    if not is_value(number):
+        raise InvalidNumber("this is no integer from 0 on")

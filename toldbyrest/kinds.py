@@ -96,9 +96,10 @@ class Kinds:
         self._with_answer = [self._bits_with_answer(index) for index in range(len(self.looks))]
         self.row_kinds = {table: self._bits_keeping(book, table) for table in schema.tables}
         self.givers = [self._bits_meeting(look[2], look[4]) for look in self.looks]
-        self.meetings = {kind: _choices(len(self._through(kind))) for kind in schema.kinds}
-        self.fitting = {place: self._fitting_at(place, kind) for kind in schema.kinds for place in schema.places(kind)}
-        self.needs = {kind: [self._needs_of(kind, answers) for answers in self.meetings[kind]] for kind in schema.kinds}
+        names = schema.column_kinds
+        self.meetings = {kind: _choices(len(self._through(kind))) for kind in names}
+        self.fitting = {place: self._fitting_at(place, kind) for kind in names for place in schema.places(kind)}
+        self.needs = {kind: [self._needs_of(kind, answers) for answers in self.meetings[kind]] for kind in names}
 
     def sieve(self):
         """Return the sieve of the row kinds, in which views are the items."""
@@ -108,9 +109,13 @@ class Kinds:
         """Return the ascending list of the views of a table that have a bit."""
         return [self.views[table][number] for number in numbers_of(bits)]
 
-    def bit_of(self, row_kind):
-        """Return the integer that has the bit of this row kind alone."""
-        return 1 << self.views[row_kind[0]].index(row_kind)
+    def number_of(self, view):
+        """Return the number of a view."""
+        return self.views[view[0]].index(view)
+
+    def bit_of(self, view):
+        """Return the integer that has the bit of this view alone."""
+        return 1 << self.number_of(view)
 
     def is_row_kind(self, thing):
         """Return whether a thing is a row kind."""
@@ -128,7 +133,7 @@ class Kinds:
 
     def is_meeting(self, thing):
         """Return whether a thing is a meeting."""
-        if not isinstance(thing, tuple) or len(thing) != 2 or thing[0] not in self.schema.kinds:
+        if not isinstance(thing, tuple) or len(thing) != 2 or thing[0] not in self.schema.column_kinds:
             return False
         return _are_bools(thing[1], len(self._through(thing[0])))
 

@@ -19,6 +19,12 @@ def check_lacking(schema, lacking):
         raise InvalidLacking("these are no lacking flags of the schema")
 
 
+def check_book_and_lacking(schema, book, lacking):
+    """Raise InvalidBook, or InvalidLacking for what is no lacking flags of the schema."""
+    check_book(schema, book)
+    check_lacking(schema, lacking)
+
+
 def bare(schema, rows, lacking):
     """Return the rows with None in the place of each lacking flag."""
     check_rows(schema, rows)

@@ -3,19 +3,14 @@
 from toldbyrest.books import check_book
 from toldbyrest.growth import Growth
 from toldbyrest.kinds import Kinds
+from toldbyrest.sieves import rounds_of
 
 
 def rounds_of_kinds(schema, book):
     """Return the dict from the row kinds that are struck to the numbers of their rounds."""
     check_book(schema, book)
     kinds = Kinds(schema, book)
-    stages = kinds.sieve().stages()
-    found = {}
-    for number in range(1, len(stages)):
-        for table in schema.tables:
-            for row_kind in kinds.listed(table, stages[number - 1][table] - stages[number][table]):
-                found[row_kind] = number
-    return {row_kind: found[row_kind] for row_kind in sorted(found)}
+    return rounds_of(kinds, kinds.sieve().stages())
 
 
 def kinds_left(schema, book, table):
@@ -41,14 +36,23 @@ def rows_with(schema, book, row_kind):
     left = left_of(kinds)
     if not left[table] & kinds.bit_of(row_kind):
         return None
-    growth = Growth(kinds.sieve(), left)
-    index = growth.plant(table, kinds.views[table].index(row_kind))
-    return ({name: _flagged(kinds, name, growth.rows[name]) for name in schema.tables}, index)
+    growth = growth_of(kinds, left, 0)
+    index = growth.plant(table, kinds.number_of(row_kind))
+    return (flagged(kinds, growth), index)
 
 
-def _flagged(kinds, table, grown):
-    """Return rows with the flags of the views that stand in them."""
-    return [(values, kinds.views[table][item][1]) for values, item in grown]
+def growth_of(kinds, left, least_value):
+    """Return a growth of rows that are row kinds that are left."""
+    sieve = kinds.sieve()
+    return Growth(sieve, [(sieve.all_possible(left), left)], least_value)
+
+
+def flagged(kinds, growth):
+    """Return the rows of such a growth, with the flags of the row kinds."""
+    return {
+        table: [(values, kinds.views[table][item][1]) for values, item in growth.rows[table]]
+        for table in kinds.schema.tables
+    }
 
 
 def can_have_rows(schema, book, table):

@@ -68,7 +68,7 @@ class Schema:
         return sorted([(table, flag) for table, (_, flags) in self._tables.items() for flag in flags])
 
     @property
-    def kinds(self):
+    def column_kinds(self):
         """The ascending list of the different kinds of the columns."""
         return sorted(set([kind for columns, _ in self._tables.values() for _, kind in columns]))
 

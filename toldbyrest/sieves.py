@@ -28,26 +28,44 @@ class Sieve:
 
     def staying(self, there):
         """Return those of the items that are not struck in a round if just these are there before."""
+        possible = self.all_possible(there)
         found = {}
         for table in self.schema.tables:
             found[table] = there[table]
             for column, kind in self.schema.columns(table):
-                found[table] = found[table] & self._let_be(there, (table, column), kind)
+                found[table] = found[table] & self._fitting_some((table, column), possible[kind])
         return found
 
-    def possible(self, there, kind):
-        """Return the list of the numbers of the meetings of a kind that get all they ask for."""
-        return [number for number in range(len(self.needs[kind])) if self._is_possible(there, kind, number)]
+    def all_possible(self, there):
+        """Return for each kind the list of the numbers of the meetings that get all they ask for."""
+        return {kind: self._possible(there, kind) for kind in self.needs}
 
     def helpers(self, there, place, number, givers):
         """Return those of the items that are there that fit a meeting at a place and give what it asks for."""
         return there[place[0]] & self.fitting[place][number] & givers
 
-    def _is_possible(self, there, kind, number):
-        return all([self.helpers(there, place, number, givers) for place, givers in self.needs[kind][number]])
+    def _possible(self, there, kind):
+        return [
+            number for number, needs in enumerate(self.needs[kind])
+            if all([self.helpers(there, place, number, givers) for place, givers in needs])
+        ]
 
-    def _let_be(self, there, place, kind):
+    def _fitting_some(self, place, numbers):
+        """Return the items that fit one of some meetings at a place."""
         found = 0
-        for number in self.possible(there, kind):
+        for number in numbers:
             found = found | self.fitting[place][number]
         return found
+
+
+def rounds_of(listing, stages):
+    """Return the ascending dict from what is struck to the numbers of the rounds, by the stages of a sieve.
+
+    The listing has a method that lists what the items of a table are, by their bits.
+    """
+    found = {}
+    for number in range(1, len(stages)):
+        for table in stages[number]:
+            for thing in listing.listed(table, stages[number - 1][table] - stages[number][table]):
+                found[thing] = number
+    return {thing: found[thing] for thing in sorted(found)}
