@@ -158,7 +158,9 @@ class ApartTest(unittest.TestCase):
 
     def test_two_lacking_flags_and_three_looks(self):
         schema = Schema({name: ((("i", "k"), ("j", "k"), ("l", "k")), ("f", "g", "h")) for name in ("a", "b", "c", "d")})
-        asks = [("has", "i", "b", "j", ("flag", "f")), ("has", "j", "c", "i", ("flag", "g")), ("has", "l", "a", "l", ("flag", "h"))]
+        asks = [
+            ("has", "i", "b", "j", ("flag", "f")), ("has", "j", "c", "i", ("flag", "g")), ("has", "l", "a", "l", ("flag", "h")),
+        ]
         book = [("a", exactly("f", asks[0])), ("b", exactly("f", asks[1])), ("c", exactly("g", asks[2]))]
         for lacking in ([("a", "f"), ("b", "f"), ("c", "g")], [("a", "f"), ("a", "g"), ("b", "f"), ("d", "f"), ("d", "h")]):
             for place in lacking:
@@ -219,7 +221,8 @@ class AllCallsTest(unittest.TestCase):
             for table in ("sea", "busy", ("town", "busy")):
                 self.assertRaises(UnknownTable, call, SCHEMA, BOOK, OF_TOWN, table, "busy", *more)
             # Flags that are kept, and flags of another table.
-            for table, flag in (("town", "old"), ("shop", "open"), ("shop", "busy"), ("town", "open"), ("land", "busy"), ("town", "id")):
+            others = ("shop", "open"), ("shop", "busy"), ("town", "open"), ("land", "busy"), ("town", "id")
+            for table, flag in (("town", "old"), *others):
                 self.assertRaises(UnknownFlag, call, SCHEMA, BOOK, OF_TOWN, table, flag, *more)
 
     def test_invalid_number(self):

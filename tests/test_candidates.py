@@ -286,7 +286,10 @@ class AllCallsTest(unittest.TestCase):
             self.assertRaises(InvalidLacking, call, SCHEMA, BOOK, [["town", "busy"]], BARE, *more)
             self.assertRaises(InvalidRows, call, SCHEMA, BOOK, [], BARE, *more)
             self.assertRaises(InvalidRows, call, SCHEMA, BOOK, PLACES, BARE, *more)
-            for row in (((1, 2), (1, None)), ((1, 2), (None, None)), ((True, 2), (True, None)), ((1, -2), (True, None)), ((1,), (True, None))):
+            for row in (
+                ((1, 2), (1, None)), ((1, 2), (None, None)), ((True, 2), (True, None)), ((1, -2), (True, None)),
+                ((1,), (True, None)),
+            ):
                 self.assertRaises(InvalidRows, call, SCHEMA, BOOK, OF_TOWN, {**BARE, "town": [row]}, *more)
 
     def test_invalid_number(self):

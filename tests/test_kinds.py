@@ -90,9 +90,8 @@ class RowKindsTest(unittest.TestCase):
         self.assertEqual(row_kinds(SCHEMA, [("town", OLD), ("town", ("not", OLD))], "town"), [])
         # No row of data can be without a row, itself, that has its id; but it is a row kind.
         itself = ("has", "id", "town", "id", YES)
-        self.assertEqual(
-            row_kinds(SCHEMA, [("town", ("not", itself)), ("town", OLD), ("town", BUSY)], "town"), [("town", (True, True), (False,))]
-        )
+        book = [("town", ("not", itself)), ("town", OLD), ("town", BUSY)]
+        self.assertEqual(row_kinds(SCHEMA, book, "town"), [("town", (True, True), (False,))])
 
     def test_six_rules_and_equal_rules(self):
         self.assertEqual(row_kinds(SCHEMA, BOOK * 2, "town"), row_kinds(SCHEMA, BOOK, "town"))

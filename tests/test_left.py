@@ -100,7 +100,8 @@ class RoundsTest(unittest.TestCase):
         schema = Schema({"a": ((("i", "k"), ("j", "k"), ("l", "k")), ("f",))})
         for column in ("i", "j", "l"):
             # Whoever asks for a row that cannot be is struck, through whichever column.
-            book = [("a", ("or", ("not", ("flag", "f")), ("has", column, "a", "j", ("and", ("flag", "f"), ("not", ("flag", "f"))))))]
+            never = ("and", ("flag", "f"), ("not", ("flag", "f")))
+            book = [("a", ("or", ("not", ("flag", "f")), ("has", column, "a", "j", never)))]
             self.check_all(book, {("a", (False,), (True,)): 1, ("a", (True,), (True,)): 1}, schema)
 
     def test_who_gives_has_to_fit_the_meeting_itself(self):
@@ -171,11 +172,14 @@ class RowsWithTest(unittest.TestCase):
 
     def test_three_looks(self):
         schema = Schema({"a": ((("i", "k"), ("j", "k"), ("l", "k")), ("f", "g", "h"))})
-        asks = [("has", "i", "a", "j", ("flag", "f")), ("has", "j", "a", "i", ("flag", "g")), ("has", "l", "a", "l", ("flag", "h"))]
+        asks = [
+            ("has", "i", "a", "j", ("flag", "f")), ("has", "j", "a", "i", ("flag", "g")), ("has", "l", "a", "l", ("flag", "h")),
+        ]
         every = ("and", asks[0], ("and", asks[1], asks[2]))
         self.assertLess(self.check([("a", ("or", every, ("not", every)))], schema), 100)
         self.assertLess(self.check([("a", every)], schema), 100)
-        within = ("has", "i", "a", "j", ("not", ("has", "l", "a", "i", ("and", ("flag", "f"), ("has", "j", "a", "j", ("flag", "g"))))))
+        inner = ("has", "l", "a", "i", ("and", ("flag", "f"), ("has", "j", "a", "j", ("flag", "g"))))
+        within = ("has", "i", "a", "j", ("not", inner))
         self.assertLess(self.check([("a", ("or", within, ("flag", "h")))], schema), 100)
 
     def test_four_tables(self):

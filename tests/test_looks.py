@@ -131,7 +131,8 @@ class LooksTest(unittest.TestCase):
                         self.assertRaises(InvalidBook, call, SCHEMA, thing, *[thing] * len(more))
                     self.assertRaises(InvalidBook, call, SCHEMA, [thing], *more)
                     self.assertRaises(InvalidBook, call, SCHEMA, NEST + [("town", thing)] if thing != YES else None, *more)
-            for book in (NEST * 4, tuple(NEST), [list(NEST[0])], [("town", OPEN)], [("sea", YES)], [("town", ("has", "id", "town"))]):
+            others = [("town", OPEN)], [("sea", YES)], [("town", ("has", "id", "town"))]
+            for book in (NEST * 4, tuple(NEST), [list(NEST[0])], *others):
                 self.assertRaises(InvalidBook, call, SCHEMA, book, *more)
                 self.assertRaises(InvalidBook, call, SCHEMA, book, *[None] * len(more))
 

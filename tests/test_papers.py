@@ -177,7 +177,10 @@ class PaperTest(unittest.TestCase):
                     else:
                         self.assertIsNone(paper(schema, book, lacking, pair))
                 for _ in range(5):
-                    thing = {pair: max(1, number + random.choice((-1, 0, 0, 1))) for pair, number in rounds.items() if random.random() < 0.8}
+                    thing = {
+                        pair: max(1, number + random.choice((-1, 0, 0, 1)))
+                        for pair, number in rounds.items() if random.random() < 0.8
+                    }
                     thing.update({pair: random.randint(1, 3) for pair in everything if random.random() < 0.02})
                     expected = plainly_is_paper(plain, lacking, thing)
                     self.assertIs(is_paper(schema, book, lacking, thing), expected)

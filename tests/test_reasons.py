@@ -38,11 +38,13 @@ WRONG_KEYS = [
     ("town", 3, LAST[2]), ("town", -1, LAST[2]), ("town", -3, LAST[2]), ("town", True, MIDDLE[2]), ("town", False, FIRST[2]),
     ("town", None, LAST[2]), ("town", "2", LAST[2]), ("town", (2,), LAST[2]),
     # No candidate of the row: another kept flag, another table, an answer that the rule forbids.
-    ("town", 2, FIRST[2]), ("town", 0, LAST[2]), ("town", 2, ("shop", (True,), ())), ("town", 2, ("town", (False, True), (False,))),
-    ("town", 2, ("town", (False, True))), ("town", 2, ("town", (False, True), (True,), ())), ("town", 2, (False, True)),
+    ("town", 2, FIRST[2]), ("town", 0, LAST[2]), ("town", 2, ("shop", (True,), ())),
+    ("town", 2, ("town", (False, True), (False,))), ("town", 2, ("town", (False, True))),
+    ("town", 2, ("town", (False, True), (True,), ())), ("town", 2, (False, True)),
     ("town", 2, ("town", (0, 1), (1,))), ("town", 2, ("town", (False, True), (1,))), ("town", 2, ("town", (None, True), (True,))),
     ("town", 2, ("town", (False,), (True,))), ("town", 2, ("town", (False, True), ())), ("town", 2, None), ("town", 2, "town"),
-    ("town", 2, ()), "town", "abc", "", 0, 1, (), ("town",), LAST[2], (LAST,), ("town", "town", "town"), ("shop", 0, ("shop", (False,), ())),
+    ("town", 2, ()), "town", "abc", "", 0, 1, (), ("town",), LAST[2], (LAST,), ("town", "town", "town"),
+    ("shop", 0, ("shop", (False,), ())),
 ]
 CALLS = [(is_reason, [STRUCK]), (reason, ["town", 2, LAST[2]])]
 
@@ -115,7 +117,8 @@ class IsReasonTest(unittest.TestCase):
         for thing in objects() + [list(STRUCK.items()), tuple(STRUCK.items()), [STRUCK], (STRUCK,), list(STRUCK), LAST]:
             with self.subTest(repr(thing)[:60]):
                 self.assertIs(told(BOOK, OF_TOWN, BARE, thing), same(thing, {}))
-                self.assertIs(told(BOOK, OF_TOWN, BARE, {LAST: thing}), isinstance(thing, int) and thing > 0 and thing is not True)
+                expected = isinstance(thing, int) and thing > 0 and thing is not True
+                self.assertIs(told(BOOK, OF_TOWN, BARE, {LAST: thing}), expected)
 
     def test_as_the_document_says_it(self):
         random = Random(26)
@@ -136,7 +139,10 @@ class IsReasonTest(unittest.TestCase):
                 for kind in kinds:
                     self.check_told(schema, book, lacking, rows, (*row, kind), struck)
             for _ in range(8):
-                thing = {part: max(1, number + random.choice((-1, 0, 0, 0, 1))) for part, number in struck.items() if random.random() < 0.8}
+                thing = {
+                    part: max(1, number + random.choice((-1, 0, 0, 0, 1)))
+                    for part, number in struck.items() if random.random() < 0.8
+                }
                 expected = plainly_is_reason(plain, rows, thing)
                 self.assertIs(is_reason(schema, book, lacking, rows, thing), expected)
                 seen[expected] += len(thing) > 1
@@ -209,7 +215,8 @@ class ReasonTest(unittest.TestCase):
                 if thing != ("shop", (True,), ()):
                     self.assertRaises(InvalidKind, reason, SCHEMA, BOOK, OF_TOWN, BARE, "shop", 0, thing)
         others = [("shop", (False,), ()), ("shop", (True,), ()), ("land", (), ())]
-        for thing in others + [QUIET, FIRST[2], ["town", (False, True), (True,)], ("town", [False, True], (True,)), ("town", (False, 1), (True,))]:
+        others += [["town", (False, True), (True,)], ("town", [False, True], (True,)), ("town", (False, 1), (True,))]
+        for thing in others + [QUIET, FIRST[2]]:
             self.assertRaises(InvalidKind, reason, SCHEMA, BOOK, OF_TOWN, BARE, "town", 2, thing)
 
 
