@@ -222,6 +222,12 @@ class LanguageTest(unittest.TestCase):
                     self.assertEqual(attributes & (methods | BARRED_ATTRIBUTES), set(), path.name)
                     self.assertEqual(methods & BUILTIN_METHODS, set(), path.name)
 
+    def test_properties_are_no_attributes_elsewhere(self):
+        nodes = [node for path in FILES for node in nodes_of(path)]
+        properties = {node.name for node in nodes if isinstance(node, ast.FunctionDef) and node.decorator_list}
+        stored = {node.attr for node in nodes if isinstance(node, ast.Attribute) and isinstance(node.ctx, ast.Store)}
+        self.assertEqual(stored & properties, set())
+
     def test_builtins_and_methods(self):
         own = {node.name for path in FILES for node in nodes_of(path) if isinstance(node, (ast.FunctionDef, ast.ClassDef))}
         # The examples leave the last answer behind in _, which is no builtin.

@@ -18,7 +18,7 @@ class Growth:
     """
 
     def __init__(self, sieve, levels, least_value):
-        self.rows = {table: [] for table in sieve.schema.tables}
+        self.grown = {table: [] for table in sieve.schema.tables}
         self.edge = []
         self._sieve = sieve
         self._levels = levels
@@ -28,7 +28,7 @@ class Growth:
 
     def plant(self, table, item):
         """Add a row with an item on the first level, and all that it needs; return its index."""
-        index = len(self.rows[table])
+        index = len(self.grown[table])
         self._stand(table, item, 0, None, None)
         self._finish()
         return index
@@ -61,7 +61,7 @@ class Growth:
         values = []
         for column, kind in self._sieve.schema.columns(table):
             values.append(value if column == given else self._value((table, column), kind, item, level))
-        self.rows[table].append((tuple(values), item))
+        self.grown[table].append((tuple(values), item))
 
     def _value(self, place, kind, item, level):
         fitting = self._sieve.fitting[place]

@@ -100,10 +100,7 @@ class Kinds:
         self.meetings = {kind: _choices(len(self._through(kind))) for kind in names}
         self.fitting = {place: self._fitting_at(place, kind) for kind in names for place in schema.places(kind)}
         self.needs = {kind: [self._needs_of(kind, answers) for answers in self.meetings[kind]] for kind in names}
-
-    def sieve(self):
-        """Return the sieve of the row kinds, in which views are the items."""
-        return Sieve(self.schema, self.row_kinds, self.fitting, self.needs)
+        self.sieve = Sieve(schema, self.row_kinds, self.fitting, self.needs)
 
     def listed(self, table, bits):
         """Return the ascending list of the views of a table that have a bit."""

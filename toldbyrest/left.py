@@ -10,7 +10,7 @@ def rounds_of_kinds(schema, book):
     """Return the dict from the row kinds that are struck to the numbers of their rounds."""
     check_book(schema, book)
     kinds = Kinds(schema, book)
-    return rounds_of(kinds, kinds.sieve().stages())
+    return rounds_of(kinds, kinds.sieve.stages())
 
 
 def kinds_left(schema, book, table):
@@ -24,7 +24,7 @@ def kinds_left(schema, book, table):
 
 def left_of(kinds):
     """Return for each table the views that are left."""
-    return kinds.sieve().stages()[-1]
+    return kinds.sieve.stages()[-1]
 
 
 def rows_with(schema, book, row_kind):
@@ -43,14 +43,13 @@ def rows_with(schema, book, row_kind):
 
 def growth_of(kinds, left, least_value):
     """Return a growth of rows that are row kinds that are left."""
-    sieve = kinds.sieve()
-    return Growth(sieve, [(sieve.all_possible(left), left)], least_value)
+    return Growth(kinds.sieve, [(kinds.sieve.all_possible(left), left)], least_value)
 
 
 def flagged(kinds, growth):
     """Return the rows of such a growth, with the flags of the row kinds."""
     return {
-        table: [(values, kinds.views[table][item][1]) for values, item in growth.rows[table]]
+        table: [(values, kinds.views[table][item][1]) for values, item in growth.grown[table]]
         for table in kinds.schema.tables
     }
 

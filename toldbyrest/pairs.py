@@ -77,7 +77,7 @@ class Pairs:
     def flagged(self, growth, side):
         """Return the rows of a growth of pairs, with the flags of the first ones or of the second ones of the pairs."""
         return {
-            table: [(values, self.pair(table, item)[side][1]) for values, item in growth.rows[table]]
+            table: [(values, self.pair(table, item)[side][1]) for values, item in growth.grown[table]]
             for table in self.kinds.schema.tables
         }
 
@@ -97,7 +97,7 @@ class Pairs:
 
     def meetings_apart(self):
         """Return for each kind the meetings of pairs that are possible if each side has what it needs by itself."""
-        possible = self.kinds.sieve().all_possible(self.left)
+        possible = self.kinds.sieve.all_possible(self.left)
         return {
             kind: [one * len(self.kinds.meetings[kind]) + other for one in possible[kind] for other in possible[kind]]
             for kind in possible
