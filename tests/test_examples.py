@@ -175,6 +175,45 @@ False
 >>> [data_one(schema, [('town', ('and', ('flag', 'old'), ('flag', 'busy')))], [('town', 'busy')], 'town', 'busy', 0) is None for data_one in (data_behind, data_near)]
 [True, True]
 """,
+    "31": r"""
+>>> from toldbyrest.schemas import Schema
+>>> from toldbyrest.tellers import do_tell, greatest_mutes, least_tellers
+>>> schema = Schema({'town': ((('id', 'town'),), ('old', 'busy'))})
+>>> same = ('or', ('and', ('flag', 'old'), ('flag', 'busy')), ('and', ('not', ('flag', 'old')), ('not', ('flag', 'busy'))))
+>>> [least_tellers(schema, [('town', same)]), greatest_mutes(schema, [('town', same)]), do_tell(schema, [], [('town', 'old')])]
+[[[('town', 'busy')], [('town', 'old')]], [[]], False]
+""",
+    "32": r"""
+>>> from toldbyrest.schemas import Schema
+>>> from toldbyrest.single import greatest_without, least_for
+>>> schema = Schema({'shop': ((('at', 'town'),), ('open',)), 'town': ((('id', 'town'),), ('busy',))})
+>>> seen = ('has', 'id', 'shop', 'at', ('flag', 'open'))
+>>> book = [('town', ('or', ('and', ('flag', 'busy'), seen), ('and', ('not', ('flag', 'busy')), ('not', seen))))]
+>>> [least_for(schema, book, 'town', 'busy'), least_for(schema, book, 'shop', 'open'), greatest_without(schema, book, 'shop', 'open')]
+[[[('shop', 'open')]], [], [[('town', 'busy')]]]
+""",
+    "33": r"""
+>>> from toldbyrest.schemas import Schema
+>>> from toldbyrest.telling import is_telling, telling
+>>> schema = Schema({'shop': ((('at', 'town'),), ('open',)), 'town': ((('id', 'town'),), ('busy',))})
+>>> seen = ('has', 'id', 'shop', 'at', ('flag', 'open'))
+>>> book = [('town', ('or', ('and', ('flag', 'busy'), seen), ('and', ('not', ('flag', 'busy')), ('not', seen))))]
+>>> [is_telling(schema, book, [('town', 'busy')], 'town', 'busy', condition) for condition in (seen, ('flag', 'busy'), ('not', seen))]
+[True, False, False]
+>>> telling(schema, book, [('shop', 'open')], 'shop', 'open') is None
+True
+""",
+    "34": r"""
+>>> from toldbyrest.follows import are_alike, follows, needless
+>>> from toldbyrest.schemas import Schema
+>>> schema = Schema({'town': ((('id', 'town'), ('of', 'town')), ('old',))})
+>>> above = ('has', 'of', 'town', 'id', ('flag', 'old'))
+>>> book = [('town', above), ('town', ('or', above, ('flag', 'old'))), ('town', ('flag', 'old'))]
+>>> [needless(schema, book), follows(schema, book[:1], 'town', ('has', 'of', 'town', 'id', ('has', 'of', 'town', 'id', ('yes',))))]
+[[1], True]
+>>> are_alike(schema, book, book[::2])
+True
+""",
 }
 
 

@@ -76,6 +76,20 @@ INTERFACE = {
         "data_behind": ["schema", "book", "lacking", "table", "flag", "number"],
         "data_near": ["schema", "book", "lacking", "table", "flag", "number"],
     },
+    "tellers": {
+        "do_tell": ["schema", "book", "kept"], "least_tellers": ["schema", "book"], "greatest_mutes": ["schema", "book"],
+    },
+    "single": {
+        "least_for": ["schema", "book", "table", "flag"], "greatest_without": ["schema", "book", "table", "flag"],
+    },
+    "telling": {
+        "is_telling": ["schema", "book", "lacking", "table", "flag", "condition"],
+        "telling": ["schema", "book", "lacking", "table", "flag"],
+    },
+    "follows": {
+        "follows": ["schema", "book", "table", "condition"], "data_against": ["schema", "book", "table", "condition"],
+        "needless": ["schema", "book"], "are_alike": ["schema", "one", "other"],
+    },
 }
 METHODS = {
     ("schemas", "Schema"): {"columns": ["table"], "flags": ["table"], "kind_of": ["table", "column"], "places": ["kind"]},

@@ -95,7 +95,7 @@ class Kinds:
         self.with_flag = {place: self._bits_with_flag(place) for place in schema.flag_places}
         self._with_answer = [self._bits_with_answer(index) for index in range(len(self.looks))]
         self.row_kinds = {table: self._bits_keeping(book, table) for table in schema.tables}
-        self.givers = [self._bits_meeting(look[2], look[4]) for look in self.looks]
+        self.givers = [self.bits_meeting(look[2], look[4]) for look in self.looks]
         names = schema.column_kinds
         self.meetings = {kind: _choices(len(self._through(kind))) for kind in names}
         self.fitting = {place: self._fitting_at(place, kind) for kind in names for place in schema.places(kind)}
@@ -113,6 +113,22 @@ class Kinds:
     def bit_of(self, view):
         """Return the integer that has the bit of this view alone."""
         return 1 << self.number_of(view)
+
+    def bits_meeting(self, table, condition):
+        """Return the views of a table that meet a condition, if a "has" is met by those that answer it with True."""
+        word = condition[0]
+        if word == "has":
+            return self._with_answer[self.looks.index((table,) + condition[1:])]
+        if word == "flag":
+            return self.with_flag[(table, condition[1])]
+        below = [self.bits_meeting(table, part) for part in parts_within(condition)]
+        if word == "not":
+            return self._all_of(table) - below[0]
+        if word == "and":
+            return below[0] & below[1]
+        if word == "or":
+            return below[0] | below[1]
+        return self._all_of(table)
 
     def is_row_kind(self, thing):
         """Return whether a thing is a row kind."""
@@ -158,27 +174,11 @@ class Kinds:
         bits = self._all_of(table)
         for own, condition in book:
             if own == table:
-                bits = bits & self._bits_meeting(table, condition)
+                bits = bits & self.bits_meeting(table, condition)
         return bits
 
     def _all_of(self, table):
         return (1 << len(self.views[table])) - 1
-
-    def _bits_meeting(self, table, condition):
-        """Return the views of a table that meet a condition, if a "has" is met by those that answer it with True."""
-        word = condition[0]
-        if word == "has":
-            return self._with_answer[self.looks.index((table,) + condition[1:])]
-        if word == "flag":
-            return self.with_flag[(table, condition[1])]
-        below = [self._bits_meeting(table, part) for part in parts_within(condition)]
-        if word == "not":
-            return self._all_of(table) - below[0]
-        if word == "and":
-            return below[0] & below[1]
-        if word == "or":
-            return below[0] | below[1]
-        return self._all_of(table)
 
     def _fitting_at(self, place, kind):
         return [self._bits_fitting(place, kind, answers) for answers in self.meetings[kind]]

@@ -1,5 +1,6 @@
 """Row kinds that are struck because no data have them, and those that are left."""
 
+from toldbyrest.bits import numbers_of
 from toldbyrest.books import check_book
 from toldbyrest.growth import Growth
 from toldbyrest.kinds import Kinds
@@ -39,6 +40,16 @@ def rows_with(schema, book, row_kind):
     growth = growth_of(kinds, left, 0)
     index = growth.plant(table, kinds.number_of(row_kind))
     return (flagged(kinds, growth), index)
+
+
+def by_kept_flags(kinds, left, lacking, table):
+    """Return the dict from the kept flags of a table's views that are left to those that have them."""
+    keeps = [(table, flag) not in lacking for flag in kinds.schema.flags(table)]
+    found = {}
+    for number in numbers_of(left[table]):
+        kept = tuple([flag for flag, keep in zip(kinds.views[table][number][1], keeps) if keep])
+        found[kept] = found.get(kept, 0) | 1 << number
+    return found
 
 
 def growth_of(kinds, left, least_value):

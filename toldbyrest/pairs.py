@@ -3,7 +3,7 @@
 from toldbyrest.bits import numbers_of
 from toldbyrest.kinds import Kinds
 from toldbyrest.lacking import check_book_and_lacking
-from toldbyrest.left import left_of
+from toldbyrest.left import by_kept_flags, left_of
 from toldbyrest.sieves import Sieve, rounds_of
 
 
@@ -105,14 +105,8 @@ class Pairs:
 
     def _alike(self, table, lacking):
         """Return the ascending list of the pairs of a table, as tuples of the numbers of views."""
-        flags = self.kinds.schema.flags(table)
-        keeps = [(table, flag) not in lacking for flag in flags]
-        views = self.kinds.views[table]
-        with_kept = {}
-        for number in numbers_of(self.left[table]):
-            kept = tuple([flag for flag, keep in zip(views[number][1], keeps) if keep])
-            with_kept.setdefault(kept, []).append(number)
-        return sorted([(one, other) for alike in with_kept.values() for one in alike for other in alike])
+        alike = by_kept_flags(self.kinds, self.left, lacking, table).values()
+        return sorted([(one, other) for bits in alike for one in numbers_of(bits) for other in numbers_of(bits)])
 
     def _by_view(self, table, side):
         """Return for each view of a table the pairs that have it on a side, as the first one or as the second one."""

@@ -2,7 +2,7 @@
 
 from toldbyrest.errors import UnknownFlag
 from toldbyrest.lacking import check_book_and_lacking
-from toldbyrest.pairs import pairs_for
+from toldbyrest.pairs import Pairs, pairs_for
 
 
 def rounds_needed(schema, book, lacking, table, flag):
@@ -38,3 +38,9 @@ def rounds_for(all_pairs, place):
         if not there[place[0]] & differing:
             return number
     return None
+
+
+def are_told_by(kinds, kept, places):
+    """Return whether some flags are told in all data if just these flags are kept."""
+    all_pairs = Pairs(kinds, [place for place in kinds.schema.flag_places if place not in kept])
+    return all([rounds_for(all_pairs, place) is not None for place in places])
