@@ -214,6 +214,50 @@ True
 >>> are_alike(schema, book, book[::2])
 True
 """,
+    "35": r"""
+>>> from toldbyrest.needed import greatest_spoilers, least_rules
+>>> from toldbyrest.schemas import Schema
+>>> schema = Schema({'town': ((('id', 'town'),), ('old', 'busy'))})
+>>> book = [('town', ('or', ('flag', 'old'), ('flag', 'busy'))), ('town', ('not', ('and', ('flag', 'old'), ('flag', 'busy')))), ('town', ('flag', 'busy'))]
+>>> [least_rules(schema, book, [('town', 'busy')], 'town', 'busy'), greatest_spoilers(schema, book, [('town', 'busy')], 'town', 'busy')]
+[[[0, 1], [2]], [[0], [1]]]
+""",
+    "36": r"""
+>>> from toldbyrest.reach import cut_out, near, steps_between
+>>> from toldbyrest.schemas import Schema
+>>> schema = Schema({'shop': ((('at', 'town'),), ()), 'town': ((('id', 'town'), ('of', 'town')), ('old',))})
+>>> rows = {'shop': [((1,), ()), ((3,), ())], 'town': [((2, 3), (None,)), ((1, 2), (True,))]}
+>>> [near(schema, rows, 'shop', 0, 1), near(schema, rows, 'shop', 0, 2), steps_between(schema, rows, 'shop', 0, 'shop', 1)]
+[{'shop': [0], 'town': [1]}, {'shop': [0], 'town': [0, 1]}, 3]
+>>> cut_out(schema, rows, 'town', 1, 1)
+({'shop': [((1,), ())], 'town': [((2, 3), (None,)), ((1, 2), (True,))]}, 1)
+""",
+    "37": r"""
+>>> from toldbyrest.repairs import fewest_turns
+>>> from toldbyrest.schemas import Schema
+>>> schema = Schema({'shop': ((('at', 'town'),), ('open',)), 'town': ((('id', 'town'),), ('busy',))})
+>>> book = [('town', ('and', ('flag', 'busy'), ('has', 'id', 'shop', 'at', ('flag', 'open'))))]
+>>> rows = {'shop': [((1,), (False,)), ((1,), (False,))], 'town': [((1,), (None,))]}
+>>> [fewest_turns(schema, book, [('town', 'busy')], rows), fewest_turns(schema, book, [('town', 'busy')], {'shop': [], 'town': rows['town']})]
+[[('shop', 0, 'open')], None]
+""",
+    "38": r"""
+>>> from toldbyrest.schemas import Schema
+>>> from toldbyrest.stores import Store
+>>> schema = Schema({'shop': ((('at', 'town'),), ('open',)), 'town': ((('id', 'town'),), ('busy',))})
+>>> seen = ('has', 'id', 'shop', 'at', ('flag', 'open'))
+>>> store = Store(schema, [('town', ('or', ('and', ('flag', 'busy'), seen), ('and', ('not', ('flag', 'busy')), ('not', seen))))], [('town', 'busy')])
+>>> [store.put('town', (1,), (None,)), store.put('shop', (1,), (False,)), store.told['town'], store.turn('shop', 0, 'open'), store.told['town'], store.sound, len(store)]
+[0, 0, [((1,), (False,))], [('town', 0, 'busy')], [((1,), (True,))], True, 3]
+""",
+    "39": r"""
+>>> from toldbyrest.shell import Shell
+>>> shell = Shell()
+>>> shell.run('open main table,town/column,id,town/flag,old/flag,busy town,not,flag,busy town.busy')
+'ok'
+>>> [shell.run(line) for line in ['put main town 7 yu', 'show main town', 'rounds main town busy', 'turn main town 0 old', 'sound main', 'stores']]
+['0', '7:yn', '0', 'none', 'yes', 'main']
+""",
 }
 
 

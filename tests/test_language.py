@@ -90,11 +90,31 @@ INTERFACE = {
         "follows": ["schema", "book", "table", "condition"], "data_against": ["schema", "book", "table", "condition"],
         "needless": ["schema", "book"], "are_alike": ["schema", "one", "other"],
     },
+    "needed": {
+        "least_rules": ["schema", "book", "lacking", "table", "flag"],
+        "greatest_spoilers": ["schema", "book", "lacking", "table", "flag"],
+    },
+    "reach": {
+        "near": ["schema", "rows", "table", "index", "steps"], "cut_out": ["schema", "rows", "table", "index", "steps"],
+        "steps_between": ["schema", "rows", "table", "index", "other", "number"],
+    },
+    "repairs": {"fewest_turns": ["schema", "book", "lacking", "rows"]},
+    "stores": {"Store": ["schema", "book", "lacking"]},
+    "shell": {"Shell": []},
 }
 METHODS = {
-    ("schemas", "Schema"): {"columns": ["table"], "flags": ["table"], "kind_of": ["table", "column"], "places": ["kind"]},
+    ("schemas", "Schema"): {
+        "columns": ["table"], "flags": ["table"], "kind_of": ["table", "column"], "places": ["kind"], "__eq__": ["other"],
+    },
+    ("stores", "Store"): {
+        "put": ["table", "values", "flags"], "drop": ["table", "index"], "turn": ["table", "index", "flag"], "undo": [],
+        "copy": [], "__len__": [],
+    },
+    ("shell", "Shell"): {"run": ["line"]},
 }
-PROPERTIES = {("schemas", "Schema"): ["tables", "flag_places"]}
+PROPERTIES = {
+    ("schemas", "Schema"): ["tables", "flag_places"], ("stores", "Store"): ["rows", "told", "sound"], ("shell", "Shell"): [],
+}
 
 BUILTINS = set(
     "len range enumerate zip min max sum abs sorted reversed int str bool list tuple dict set isinstance ord repr any "
@@ -151,9 +171,6 @@ class InterfaceTest(unittest.TestCase):
                 self.assertEqual(self.parameters(held[method]), parameters)
             for name_of_property in PROPERTIES[module, name]:
                 self.assertIsInstance(held[name_of_property], property)
-
-    def test_a_schema_defines_its_equality(self):
-        self.assertIn("__eq__", vars(importlib.import_module("toldbyrest.schemas").Schema))
 
 
 class LanguageTest(unittest.TestCase):
@@ -234,13 +251,62 @@ class LanguageTest(unittest.TestCase):
                         if isinstance(part, ast.Attribute) and isinstance(part.ctx, ast.Store)
                     }
                     self.assertEqual(attributes & (methods | BARRED_ATTRIBUTES), set(), path.name)
-                    self.assertEqual(methods & BUILTIN_METHODS, set(), path.name)
+                    # A store has a method of this name, which modifies nothing; other names are for builtin values.
+                    self.assertLessEqual(methods & BUILTIN_METHODS, {"copy"}, path.name)
 
     def test_properties_are_no_attributes_elsewhere(self):
         nodes = [node for path in FILES for node in nodes_of(path)]
         properties = {node.name for node in nodes if isinstance(node, ast.FunctionDef) and node.decorator_list}
         stored = {node.attr for node in nodes if isinstance(node, ast.Attribute) and isinstance(node.ctx, ast.Store)}
         self.assertEqual(stored & properties, set())
+
+    def test_what_properties_run_changes_nothing_but_what_it_makes(self):
+        functions, methods, imported, running = {}, {}, {}, []
+        for path in FILES:
+            for node in ast.parse(path.read_text(encoding="utf-8")).body:
+                if isinstance(node, ast.ImportFrom):
+                    for part in node.names:
+                        imported[path.stem, part.name] = (node.module.split(".")[-1], part.name)
+                if isinstance(node, ast.FunctionDef):
+                    functions[path.stem, node.name] = node
+                if isinstance(node, ast.ClassDef):
+                    for part in node.body:
+                        if isinstance(part, ast.FunctionDef):
+                            methods.setdefault(part.name, []).append((path.stem, part))
+                            running += [(path.stem, part)] if part.decorator_list or part.name in ("__eq__", "__len__") else []
+                            functions.update({(path.stem, node.name): part} if part.name == "__init__" else {})
+        seen = set()
+        while running:
+            module, function = running.pop()
+            if function not in seen:
+                seen.add(function)
+                self.check_pure(function)
+                for node in ast.walk(function):
+                    if isinstance(node, ast.Call) and isinstance(node.func, ast.Attribute):
+                        running += methods.get(node.func.attr, [])
+                    if isinstance(node, ast.Call) and isinstance(node.func, ast.Name):
+                        name = imported.get((module, node.func.id), (module, node.func.id))
+                        running += [(name[0], functions[name])] if name in functions else []
+        self.assertGreater(len(seen), 20)
+
+    def check_pure(self, function):
+        """Check that a function changes only what it has made, as far as its names tell, and calls nothing it is given."""
+        given = {part.arg for part in function.args.args}
+        made = {node.id for node in ast.walk(function) if isinstance(node, ast.Name) and isinstance(node.ctx, ast.Store)}
+        for node in ast.walk(function):
+            with self.subTest(f"{function.name}:{getattr(node, 'lineno', 0)}"):
+                if isinstance(node, ast.Attribute) and isinstance(node.ctx, (ast.Store, ast.Del)):
+                    # What a property keeps for itself stands in an if of its own.
+                    self.assertEqual([function.name, node.attr], ["_told", "_told_so_far"])
+                if isinstance(node, ast.Subscript) and isinstance(node.ctx, (ast.Store, ast.Del)):
+                    self.assertIn(getattr(node.value, "id", ""), made - given)
+                if isinstance(node, ast.Call):
+                    self.assertNotIn(getattr(node.func, "id", ""), given)
+                    if getattr(node.func, "attr", "") in ("append", "extend", "insert", "remove", "pop", "clear", "update", "sort"):
+                        root = node.func.value
+                        while isinstance(root, (ast.Attribute, ast.Subscript, ast.Call)):
+                            root = root.func if isinstance(root, ast.Call) else root.value
+                        self.assertIn(root.id, made - given)
 
     def test_builtins_and_methods(self):
         own = {node.name for path in FILES for node in nodes_of(path) if isinstance(node, (ast.FunctionDef, ast.ClassDef))}

@@ -18,7 +18,7 @@ class Board:
     def __init__(self, kinds, left, rows):
         self._schema = kinds.schema
         tables = kinds.schema.tables
-        self.there = {table: [_start(kinds, left, table, flags) for _, flags in rows[table]] for table in tables}
+        self.there = {table: first_candidates(kinds, left, table, rows[table]) for table in tables}
         self._fitting = kinds.fitting
         self._needs = kinds.needs
         self._rows = rows
@@ -114,8 +114,13 @@ def _many_helpers(standing, place, givers):
     return len([own for own, bits in standing if own == place and bits & givers])
 
 
-def _start(kinds, left, table, flags):
-    """Return the candidates of a row: the views that are left and have its kept flags."""
+def first_candidates(kinds, left, table, table_rows):
+    """Return for each bare row of a table its candidates before anything is struck."""
+    return [_with_kept(kinds, left, table, flags) for _, flags in table_rows]
+
+
+def _with_kept(kinds, left, table, flags):
+    """Return the views that are left and have the kept flags of a row."""
     bits = left[table]
     for name, flag in zip(kinds.schema.flags(table), flags):
         if flag is not None:

@@ -22,7 +22,7 @@ def worked_out(schema, book, lacking, rows, number):
     check_number(number)
     kinds = Kinds(schema, book)
     there = _there_behind(kinds, rows, number)
-    return {table: _worked_out_of(kinds, table, rows[table], there[table]) for table in schema.tables}
+    return {table: with_agreed(kinds, table, rows[table], there[table]) for table in schema.tables}
 
 
 def last_round(schema, book, lacking, rows):
@@ -45,7 +45,8 @@ def _there_behind(kinds, rows, number):
     return board.there
 
 
-def _worked_out_of(kinds, table, table_rows, there):
+def with_agreed(kinds, table, table_rows, there):
+    """Return the bare rows of a table with the lacking flags in which all of their candidates agree."""
     places = [(table, flag) for flag in kinds.schema.flags(table)]
     return [
         (values, tuple([_agreed(kinds.with_flag[place], flag, bits) for place, flag in zip(places, flags)]))

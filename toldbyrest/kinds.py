@@ -108,7 +108,11 @@ class Kinds:
 
     def number_of(self, view):
         """Return the number of a view."""
-        return self.views[view[0]].index(view)
+        # The views of a table have all flags and answers there can be, so these are its binary digits.
+        number = 0
+        for flag in view[1] + view[2]:
+            number = 2 * number + (1 if flag else 0)
+        return number
 
     def bit_of(self, view):
         """Return the integer that has the bit of this view alone."""
