@@ -288,6 +288,16 @@ class LanguageTest(unittest.TestCase):
                         name = imported.get((module, node.func.id), (module, node.func.id))
                         running += [(name[0], functions[name])] if name in functions else []
         self.assertGreater(len(seen), 20)
+        # What is a method in one class and an attribute in another one is not called there.
+        stored = {
+            node.attr for path in FILES for node in nodes_of(path)
+            if isinstance(node, ast.Attribute) and isinstance(node.ctx, ast.Store)
+        }
+        called = {
+            node.func.attr for function in seen for node in ast.walk(function)
+            if isinstance(node, ast.Call) and isinstance(node.func, ast.Attribute)
+        }
+        self.assertEqual(stored & called & set(methods), set())
 
     def check_pure(self, function):
         """Check that a function changes only what it has made, as far as its names tell, and calls nothing it is given."""

@@ -18,7 +18,7 @@ def told_behind(kinds, left, rows, number):
 
 def _staying(kinds, rows, there):
     """Return the candidates that are not struck in a round if just these are there before."""
-    possible = _all_possible(kinds, _standing(kinds, rows, there))
+    possible = _all_possible(kinds, _standing_at(kinds, rows, there))
     return {
         table: [
             bits & _fit_each_column(kinds, table, values, possible)
@@ -28,7 +28,7 @@ def _staying(kinds, rows, there):
     }
 
 
-def _standing(kinds, rows, there):
+def _standing_at(kinds, rows, there):
     """Return for each tuple (kind, value) the list of the tuples (place, candidates) of the rows that stand there."""
     found = {}
     for table in rows:
@@ -47,12 +47,12 @@ def _all_possible(kinds, standing):
         # Many values have the same rows but for their number.
         alike = (spot[0], tuple(sorted(set(standing[spot]))))
         if alike not in known:
-            known[alike] = _possible(kinds, spot[0], alike[1])
+            known[alike] = _meetings_at(kinds, spot[0], alike[1])
         found[spot] = known[alike]
     return found
 
 
-def _possible(kinds, kind, standing):
+def _meetings_at(kinds, kind, standing):
     found = []
     for number, needs in enumerate(kinds.needs[kind]):
         fitting = [(place, bits & kinds.fitting[place][number]) for place, bits in standing]
@@ -88,11 +88,11 @@ def _view_numbers(kinds, rows):
     answers = {}
     # What a look asks for may be told by looks that lie within it, which come first.
     for _, index in sorted([(depth(look[4]), index) for index, look in enumerate(kinds.looks)]):
-        answers[index] = _answers(kinds, rows, index, answers)
+        answers[index] = _look_answers(kinds, rows, index, answers)
     return {table: _numbers_so_far(kinds, rows, table, answers) for table in rows}
 
 
-def _answers(kinds, rows, index, answers):
+def _look_answers(kinds, rows, index, answers):
     """Return for each row of the table of a look whether there is a row as the look asks for."""
     table, column, other, target, _ = kinds.looks[index]
     to = kinds.schema.column_at(other, target)

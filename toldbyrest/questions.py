@@ -17,15 +17,15 @@ class Questions:
         left = left_of(kinds)
         self._kinds = kinds
         self._lacking = lacking
-        self._table = table
+        self._own_table = table
         self._by_kept = {name: by_kept_flags(kinds, left, lacking, name) for name in kinds.schema.tables}
-        self._possible = kinds.sieve.all_possible(left)
+        self._meetings_left = kinds.sieve.all_possible(left)
         self._asked = {column: [] for column, _ in kinds.schema.columns(table)}
 
     def tell_apart(self, one, other):
         """Ask through some column what tells two views apart, with few new questions; one round strikes their pair."""
         found = []
-        for column, kind in self._kinds.schema.columns(self._table):
+        for column, kind in self._kinds.schema.columns(self._own_table):
             asked = self._asked_with(column, kind, one, other)
             if asked is not None:
                 found.append((len(asked) - len(self._asked[column]), column, asked))
@@ -45,7 +45,7 @@ class Questions:
         Each is a tuple with True, False, or None for either, for each question.
         """
         found = [()]
-        for column, kind in self._kinds.schema.columns(self._table):
+        for column, kind in self._kinds.schema.columns(self._own_table):
             parts = [self._answers_by(column, kind, number) for number in self._meetings(column, kind, view)]
             found = _different([answers + part for answers in found for part in parts])
         return found
@@ -56,7 +56,7 @@ class Questions:
 
     def _answer(self, kind, number, question):
         place, met, unmet = question
-        asked = [givers for where, givers in self._needs(kind, number) if where == place]
+        asked = [givers for where, givers in self._asked_by(kind, number) if where == place]
         if any([_are_among(self._kept_at(place, kind, number, givers), met) for givers in asked]):
             return True
         return False if _are_among(self._kept_at(place, kind, number, -1), unmet) else None
@@ -75,20 +75,20 @@ class Questions:
     def _asked_for(self, asked, kind, first, second):
         """Return the lists of the questions with each one that is met by one meeting and not met by another one."""
         found = []
-        for place, givers in self._needs(kind, first):
+        for place, givers in self._asked_by(kind, first):
             met = self._kept_at(place, kind, first, givers)
             unmet = self._kept_at(place, kind, second, -1)
             if _are_apart(met, unmet):
                 found.append(_joined(asked, place, met, unmet))
         return found
 
-    def _needs(self, kind, number):
+    def _asked_by(self, kind, number):
         return self._kinds.needs[kind][number]
 
     def _meetings(self, column, kind, view):
         """Return the meetings that a value of a row that is a view may have."""
-        fitting = self._kinds.fitting[(self._table, column)]
-        return [number for number in self._possible[kind] if fitting[number] >> view & 1]
+        fitting = self._kinds.fitting[(self._own_table, column)]
+        return [number for number in self._meetings_left[kind] if fitting[number] >> view & 1]
 
     def _kept_at(self, place, kind, number, among):
         """Return the ascending list of the kept flags of rows at a place that fit a meeting, among some views."""
