@@ -9,8 +9,8 @@ class Questions:
 
     A question is asked through a column, and is a tuple (place, met, unmet): is there, at the
     value that the row has in the column, a row at the place with kept flags of the first list?
-    What it is for, there are no flags there but these and those of the other list. So it is a
-    "has" with any condition that tells the one list from the other one.
+    It tells rows that find some of these from rows that find none but those of the second
+    list. So it becomes a "has" with any condition that tells the one list from the other one.
     """
 
     def __init__(self, kinds, lacking, table):

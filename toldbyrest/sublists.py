@@ -25,6 +25,9 @@ def greatest_wanting(listed, enough):
 
 def _are_enough(listed, enough):
     """Return for each sublist whether it is enough; the bits of its number tell which items it has."""
+    # If all items are not enough, there is no need to try some of them.
+    if not enough(listed):
+        return [False] * (1 << len(listed))
     found = []
     for number in range(1 << len(listed)):
         found.append(_is_less_enough(found, number) or enough(_sublist(listed, number)))
